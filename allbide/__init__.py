@@ -1,0 +1,1 @@
+"""Allbide: times that keep their distances."""
