@@ -8,12 +8,15 @@ GREATEST_SIDE = 100
 GREATEST_TIME = 1000
 
 
+def is_whole(value):
+    """Tell whether the value is an integer, of any size."""
+    # Python counts True and False as integers, the document does not.
+    return isinstance(value, int) and not isinstance(value, bool)
+
+
 def is_integer(value, least, greatest):
     """Tell whether the value is an integer from the least to the greatest one."""
-    # Python counts True and False as integers, the document does not.
-    if not isinstance(value, int) or isinstance(value, bool):
-        return False
-    return least <= value <= greatest
+    return is_whole(value) and least <= value <= greatest
 
 
 def is_event(value, size):
@@ -127,9 +130,8 @@ def edge_course(net, value):
     return None
 
 
-def edges(net):
-    """Return the tuple of the edges in their order, each as (edge, start, end, weight)."""
-    check_net(net)
+def all_edges(net):
+    """Return the tuple of the edges of the net, which is not checked."""
     found = []
     for index in range(len(net[1])):
         for edge in ((index, "high"), (index, "low")):
@@ -138,6 +140,12 @@ def edges(net):
                 start, end, weight = course
                 found.append((edge, start, end, weight))
     return tuple(found)
+
+
+def edges(net):
+    """Return the tuple of the edges in their order, each as (edge, start, end, weight)."""
+    check_net(net)
+    return all_edges(net)
 
 
 def walk_end(net, start, value):
@@ -151,6 +159,18 @@ def walk_end(net, start, value):
             return None
         place = course[1]
     return place
+
+
+def weight_sum(net, walk):
+    """Return the sum of the weights of the edges."""
+    return sum([edge_course(net, edge)[2] for edge in walk])
+
+
+def length_between(net, start, end, value):
+    """Return the length of the value if it is a walk from the start to the end, or None if it is not."""
+    if walk_end(net, start, value) != end:
+        return None
+    return weight_sum(net, value)
 
 
 def is_walk(net, start, end, value):
@@ -167,4 +187,4 @@ def walk_length(net, walk):
     ends = [walk_end(net, event, walk) for event in range(net[0])]
     if all([end is None for end in ends]):
         raise BadValue("walk")
-    return sum([edge_course(net, edge)[2] for edge in walk])
+    return weight_sum(net, walk)

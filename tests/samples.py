@@ -1,8 +1,12 @@
-"""Nets, times and wrong values that several test files use."""
+"""Nets, times, news, steps and wrong values that several test files use."""
 
 from itertools import product
 
+from allbide.nets import edges
+
 NET = (3, ((0, 1, 5, 10), (1, 2, 0, None)))
+# The net of point 29.
+SHORT_NET = (3, ((0, 1, 5, 10), (1, 2, 0, None), (0, 2, None, 60)))
 FULL_NET = (3, ((0, 1, -100, 100),) * 12)
 
 # Kinds of rules: both sides, one side only, one time only, and a low greater than the high.
@@ -32,6 +36,107 @@ def holds(rule, times):
     start, end, low, high = rule
     difference = times[end] - times[start]
     return (low is None or low <= difference) and (high is None or difference <= high)
+
+
+def walks_up_to(net, most):
+    """All walks of at most so many edges, each with its start, end and length."""
+    found = [((), event, event, 0) for event in range(net[0])]
+    longest = found
+    for _ in range(most):
+        longest = [
+            (walk + (edge,), first, end, length + weight)
+            for walk, first, last, length in longest
+            for edge, start, end, weight in edges(net)
+            if start == last
+        ]
+        found = found + longest
+    return found
+
+
+def ring(size, slack):
+    """A net of one ring of rules: going around it on the lows, in as many edges as it has events, has this length."""
+    rules = tuple((k, k + 1, 1, None) for k in range(size - 1))
+    return size, rules + ((size - 1, 0, 1 - size - slack, None),)
+
+
+class Numbers:
+    """Numbers that look arbitrary, and are the same in each run and under each version of Python."""
+
+    def __init__(self, seed):
+        self.state = seed
+
+    def below(self, many):
+        """The next number from 0 to many less 1."""
+        self.state = (self.state * 6364136223846793005 + 1442695040888963407) % 2 ** 64
+        return (self.state >> 33) % many
+
+    def between(self, least, greatest):
+        """The next number from the least to the greatest."""
+        return least + self.below(greatest - least + 1)
+
+    def choice(self, values):
+        """One of the values."""
+        return values[self.below(len(values))]
+
+    def pair(self, size):
+        """Two different events."""
+        start = self.below(size)
+        return start, (start + 1 + self.below(size - 1)) % size
+
+
+def kept_pairs(seed, many, sizes=(1, 2, 3, 4, 5, 6), far=20):
+    """Nets that can be kept, each with times that keep it."""
+    numbers = Numbers(seed)
+    found = []
+    while len(found) < many:
+        size = numbers.choice(sizes)
+        times = tuple(numbers.between(-far, far) for _ in range(size))
+        rules = []
+        for _ in range(numbers.below(13) if size > 1 else 0):
+            start, end = numbers.pair(size)
+            difference = times[end] - times[start]
+            low, high = difference - numbers.below(9), difference + numbers.below(9)
+            rules.append((start, end) + numbers.choice(((low, high), (low, None), (None, high))))
+        found.append(((size, tuple(rules)), times))
+    return found
+
+
+def varied_nets(seed, many, sizes=(2, 3, 4, 5, 6)):
+    """Nets of which some can be kept and some cannot."""
+    numbers = Numbers(seed)
+    found = []
+    while len(found) < many:
+        size = numbers.choice(sizes)
+        rules = []
+        for _ in range(numbers.below(2 * size + 1)):
+            low = numbers.between(-9, 5)
+            high = low + numbers.between(-1, 9)
+            rules.append(numbers.pair(size) + numbers.choice(((low, high), (low, None), (None, high))))
+        found.append((size, tuple(rules)))
+    return found
+
+
+def some_rows(seed, many, size, most=8, far=25):
+    """Rows of news of events of a net of this size."""
+    numbers = Numbers(seed)
+    return [
+        tuple((numbers.below(size), numbers.between(-far, far)) for _ in range(numbers.below(most + 1)))
+        for _ in range(many)
+    ]
+
+
+def later(row, many):
+    """The row with all times put later by this number."""
+    return tuple((event, time + many) for event, time in row)
+
+
+def negative(net):
+    """The net with all numbers multiplied by -1, and low and high of each rule exchanged."""
+    size, rules = net
+    return size, tuple(
+        (start, end, None if high is None else -high, None if low is None else -low)
+        for start, end, low, high in rules
+    )
 
 
 class AnyEqual:
@@ -71,6 +176,17 @@ WRONG_NETS = (
     (3, ((0, 1, 5), (0, 1, 5, 10))),
 )
 
+# A round of each number of edges that the least one can have, other orders of the events, and other rules beside it.
+LOST_NETS = (
+    (2, ((0, 1, 3, None), (1, 0, -2, None))),
+    (2, ((0, 1, 10, 5),)),
+    (2, ((1, 0, None, -1), (0, 1, -100, 0))),
+    (3, NET[1] + ((2, 0, 0, None),)),
+    (3, NET[1] + ((1, 2, None, -1),)),
+    ring(3, -1), ring(4, -1), ring(5, -1), ring(6, -1), ring(6, -100),
+    (6, ((4, 5, 0, None), (5, 4, 1, None))),
+)
+
 # For a net of three events.
 WRONG_TIMES = (
     None, True, 0, "000", (), (0,), (0, 0), (0, 0, 0, 0), [0, 0, 0],
@@ -104,4 +220,52 @@ WRONG_ORDERS = (
 WRONG_CHOICES = (
     None, True, 0, "0", (), [], [0, 1], (1, 0), (0, 2, 1), (0, 0), (1, 1, 2), (3,), (0, 3), (-1, 0), (0, 1, 2, 3),
     *[(value,) for value in NO_INTEGERS], *[(value, 2) for value in NO_INTEGERS],
+)
+
+
+def wrong_news(size):
+    """Values that are no piece of news of events from 0 to the size less 1."""
+    return (
+        None, True, 0, "07", (), (0,), (0, 7, 7), [0, 7], {0: 7}, ((0, 7),),
+        *[(event, 7) for event in (-1, size, *NO_INTEGERS)],
+        *[(0, time) for time in (-501, 501, *NO_INTEGERS)],
+    )
+
+
+def wrong_rows(size):
+    """Values that are no row of news of these events."""
+    return (
+        None, True, 0, "", "07", [], [(0, 7)], {}, (0, 7), AnyEqual(),
+        *[(news,) for news in wrong_news(size)],
+        *[((1, 20), news) for news in wrong_news(size)],
+        ((0, 7),) * 9, ((0, 7), (1, 12)) * 4 + ((2, 12),),
+    )
+
+
+# For a net of three events.
+WRONG_NEWS = wrong_news(3)
+WRONG_ROWS = wrong_rows(3)
+
+# As joint news, events may not be told two times either.
+WRONG_JOINT_NEWS = WRONG_ROWS + (
+    ((0, 7), (0, 7)), ((0, 7), (0, 8)), ((0, 7), (1, 12), (0, 7)), ((0, 7),) * 7, ((0, 7), (1, 12)) * 3,
+)
+
+# Without a net there are six events.
+WRONG_FREE_ROWS = wrong_rows(6)
+
+WRONG_STEPS = (
+    None, True, 0, "raise", (), ("raise", 0), ("raise", 0, 7, 7), ["raise", 0, 7], (0, 7), ("raise", (0, 7)),
+    *[(word, 0, 7) for word in ("", "Raise", "LOWER", "low", "high", "tell", b"raise", ("raise",), *NO_INTEGERS)],
+    *[("raise", event, 7) for event in (-1, 6, *NO_INTEGERS)],
+    *[("lower", event, 7) for event in (-1, 6, *NO_INTEGERS)],
+    *[("raise", 0, time) for time in (-501, 501, *NO_INTEGERS)],
+    *[("lower", 0, time) for time in (-501, 501, *NO_INTEGERS)],
+)
+
+WRONG_STEP_TUPLES = (
+    None, True, 0, "", "raise", [], [("raise", 0, 7)], {}, ("raise", 0, 7), AnyEqual(),
+    *[(step,) for step in WRONG_STEPS],
+    *[(("lower", 1, 3), step) for step in WRONG_STEPS],
+    (("raise", 0, 7),) * 17, tuple(("lower", k % 6, k) for k in range(17)),
 )

@@ -5,8 +5,13 @@ import inspect
 import os
 import unittest
 
-from allbide import changes, errors, nets
+from allbide import bounds, changes, effects, errors, fitting, nets, repair
+from allbide.bounds import (
+    accepts_bound, bound_evidence, can_keep, shows_kept, shows_round, some_heights, tight, told_round,
+)
 from allbide.changes import part, renamed, turned, with_rule
+from allbide.effects import accepts_limits, behind, limit_evidence, limits, settled, states
+from allbide.fitting import accepts_evidence, evidence_for, fits, fitting_beginning, window
 from allbide.nets import edges, excess, first_broken, is_walk, keeps, walk_length
 
 FUNCTIONS = (
@@ -22,6 +27,30 @@ FUNCTIONS = (
     (changes, "renamed", ["net", "order"]),
     (changes, "part", ["net", "chosen"]),
     (changes, "with_rule", ["net", "rule"]),
+    (bounds, "can_keep", ["net"]),
+    (bounds, "tight", ["net"]),
+    (bounds, "told_round", ["net"]),
+    (bounds, "some_heights", ["net"]),
+    (bounds, "shows_kept", ["net", "value"]),
+    (bounds, "shows_round", ["net", "value"]),
+    (bounds, "bound_evidence", ["net", "start", "end"]),
+    (bounds, "accepts_bound", ["net", "start", "end", "number", "value"]),
+    (repair, "fit", ["net", "row"]),
+    (repair, "told", ["net", "times", "news"]),
+    (repair, "repaired", ["net", "times", "row"]),
+    (repair, "repair", ["net", "times", "row"]),
+    (repair, "accepts_repair", ["net", "times", "row", "value"]),
+    (fitting, "fits", ["net", "row"]),
+    (fitting, "evidence_for", ["net", "row"]),
+    (fitting, "accepts_evidence", ["net", "row", "value"]),
+    (fitting, "window", ["net", "row", "event"]),
+    (fitting, "fitting_beginning", ["net", "row"]),
+    (effects, "states", ["net", "times", "row"]),
+    (effects, "behind", ["net", "times", "row"]),
+    (effects, "limits", ["net", "row"]),
+    (effects, "settled", ["net", "row"]),
+    (effects, "limit_evidence", ["net", "row", "event"]),
+    (effects, "accepts_limits", ["net", "row", "event", "pair", "value"]),
 )
 
 CLASSES = (
@@ -57,9 +86,15 @@ def contains_list(value):
 class KindsTest(unittest.TestCase):
     def test_tuples_are_returned_throughout(self):
         net = (3, ((0, 1, 5, 10), (1, 2, 0, None)))
+        times, row = (0, 5, 8), ((0, 7), (2, 30))
         for value in (
             excess(net, (0, 0, 0)), edges(net), edges((1, ())),
             turned(net), renamed(net, (1, 2, 0)), part(net, (0, 1)), with_rule(net, (2, 0, 1, 1)),
+            tight(net), told_round((2, ((0, 1, 2, 1),))), some_heights(net), bound_evidence(net, 2, 0),
+            bound_evidence(net, 0, 2), repair.told(net, times, (0, 7)), repair.repaired(net, times, row),
+            repair.repair(net, times, row), evidence_for(net, row), evidence_for(net, ((0, 7), (1, 20))),
+            window(net, row, 1), states(net, times, row), behind(net, times, row), behind(net, times, ()),
+            limits(net, row), settled(net, row), limit_evidence(net, row, 2),
         ):
             self.assertIs(type(value), tuple)
             self.assertFalse(contains_list(value), value)
@@ -93,6 +128,81 @@ class ExamplesTest(unittest.TestCase):
             (part(net, (1, 2)), with_rule((2, ()), (1, 0, None, -4))),
             ((2, ((0, 1, 0, None),)), (2, ((1, 0, None, -4),))),
         )
+
+    def test_the_examples_of_bounds(self):
+        net = (3, ((0, 1, 5, 10), (1, 2, 0, None), (0, 2, None, 60)))
+        self.assertEqual(tight(net), ((0, 10, 60), (-5, 0, 55), (-5, 0, 0)))
+        self.assertEqual(
+            (can_keep(net), shows_kept(net, (0, 5, 60)), shows_kept(net, (0, 5, 61))),
+            (True, True, False),
+        )
+        self.assertEqual(
+            (
+                accepts_bound(net, 1, 2, 55, (((0, "low"), (2, "high")), (0, 5, 60))),
+                accepts_bound(net, 1, 2, 56, bound_evidence(net, 1, 2)),
+            ),
+            (True, False),
+        )
+        bad = (2, ((0, 1, 3, None), (1, 0, -2, None)))
+        self.assertEqual(
+            (len(told_round(bad)), shows_round(bad, ((1, "low"), (0, "low"))),
+             shows_round(bad, ((0, "low"), (0, "low")))),
+            (2, True, False),
+        )
+        one = (2, ((0, 1, 3, None),))
+        self.assertEqual(
+            (tight(one), accepts_bound(one, 0, 1, None, ((0, 3), (1,)))),
+            (((0, None), (-3, 0)), True),
+        )
+
+    def test_the_examples_of_repair(self):
+        net = (3, ((0, 1, 5, 10), (1, 2, 0, None), (0, 2, None, 60)))
+        self.assertEqual(repair.told(net, (0, 5, 30), (0, 7)), (7, 12, 30))
+        self.assertEqual(
+            repair.repair(net, (0, 5, 30), ((0, 7),)),
+            ((7, 12, 30), ((0, 0, 7, ()), (1, 5, 12, ((0, "low"),)))),
+        )
+        self.assertEqual(
+            (repair.fit(net, ((0, 7), (2, 67))), repair.fit(net, ((0, 7), (2, 68))),
+             repair.repaired(net, (0, 5, 30), ((1, 100), (2, 102)))),
+            (True, False, (90, 100, 102)),
+        )
+        for height, expected in ((12, True), (13, False)):
+            value = ((7, height, 30), ((0, 0, 7, ()), (1, 5, height, ((0, "low"),))))
+            self.assertIs(repair.accepts_repair(net, (0, 5, 30), ((0, 7),), value), expected)
+
+    def test_the_examples_of_fitting(self):
+        net = (3, ((0, 1, 5, 10), (1, 2, 0, None)))
+        self.assertEqual((fits(net, ((0, 7), (1, 20))), fits(net, ((0, 7), (2, 30)))), (False, True))
+        self.assertEqual(
+            (evidence_for(net, ((0, 7), (1, 20))), evidence_for(net, ((0, 7), (2, 30)))),
+            (("barred", (0, 1, ((0, "high"),))), ("fits", (7, 12, 30))),
+        )
+        self.assertEqual(
+            (accepts_evidence(net, ((1, 3), (1, 4)), ("barred", (0, 1, ()))),
+             accepts_evidence(net, ((0, 0),), ("fits", (0, 8, 8)))),
+            (True, True),
+        )
+        self.assertEqual(
+            (window(net, ((0, 7), (2, 15)), 1), window(net, ((0, 7),), 2), window(net, (), 0)),
+            ((12, 15), (12, None), (None, None)),
+        )
+        self.assertEqual(fitting_beginning(net, ((0, 7), (2, 12), (1, 13), (0, 8))), 2)
+
+    def test_the_examples_of_effects(self):
+        net = (3, ((0, 1, 5, 10), (1, 2, 0, None)))
+        self.assertEqual(states(net, (0, 5, 8), ((0, 7), (1, 30))), ((7, 12, 12), (20, 30, 30)))
+        self.assertEqual(
+            (limits(net, ((0, 7), (1, 30))), settled(net, ((0, 7), (1, 30)))),
+            (((20, 20), (30, 30), (30, None)), (20, 30, None)),
+        )
+        self.assertEqual(
+            (limits(net, ((1, 30), (0, 7))), behind(net, (0, 5, 50), ((1, 30), (0, 7)))),
+            (((7, 7), (17, 17), (30, None)), (7, 17, 50)),
+        )
+        for pair, expected in (((30, None), True), ((30, 31), False)):
+            evidence = limit_evidence(net, ((1, 30),), 2)
+            self.assertIs(accepts_limits(net, ((1, 30),), 2, pair, evidence), expected)
 
     def test_the_examples_of_the_readme(self):
         found = doctest.testfile(README, module_relative=False)

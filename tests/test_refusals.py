@@ -1,32 +1,90 @@
-"""Points 2, 8 and 17: wrong arguments in the order of the parameters, and nothing is modified."""
+"""Points 2, 8, 17, 28, 40, 50 and 60: wrong arguments in the order of the parameters, and nothing is modified."""
 
 import copy
 import unittest
 
+from allbide.bounds import (
+    accepts_bound, bound_evidence, can_keep, shows_kept, shows_round, some_heights, tight, told_round,
+)
 from allbide.changes import part, renamed, turned, with_rule
-from allbide.errors import BadValue
+from allbide.effects import accepts_limits, behind, limit_evidence, limits, settled, states
+from allbide.errors import BadValue, NotPossible
+from allbide.fitting import accepts_evidence, evidence_for, fits, fitting_beginning, window
 from allbide.nets import edges, excess, first_broken, is_net, is_times, is_walk, keeps, walk_length
+from allbide.repair import accepts_repair, fit, repair, repaired, told
 from tests.samples import (
-    NET, WRONG_CHOICES, WRONG_EVENTS, WRONG_NETS, WRONG_ORDERS, WRONG_RULES, WRONG_TIMES, WRONG_WALKS,
+    LOST_NETS, NET, WRONG_CHOICES, WRONG_EVENTS, WRONG_JOINT_NEWS, WRONG_NETS, WRONG_NEWS, WRONG_ORDERS, WRONG_ROWS,
+    WRONG_RULES, WRONG_TIMES, WRONG_WALKS,
 )
 
 NET_ARGUMENT = ("net", NET, WRONG_NETS)
 TIMES_ARGUMENT = ("times", (0, 7, 9), WRONG_TIMES)
+# Where a net has to be one that can be kept, and times have to keep it.
+KEPT_NET_ARGUMENT = ("net", NET, WRONG_NETS + LOST_NETS)
+KEPT_TIMES_ARGUMENT = (
+    "times", (0, 7, 9), WRONG_TIMES + ((0, 4, 9), (0, 11, 12), (0, 7, 6), (7, 0, 9), (0, 0, 0), (1000, 1000, 1000)),
+)
+START_ARGUMENT = ("start", 0, WRONG_EVENTS)
+END_ARGUMENT = ("end", 1, WRONG_EVENTS)
+ROW_ARGUMENT = ("row", ((0, 7), (2, 30), (0, 8)), WRONG_ROWS)
+FITTING_ROW_ARGUMENT = ("row", ((0, 7), (2, 30), (0, 7)), WRONG_ROWS)
+JOINT_ARGUMENT = ("row", ((0, 7), (2, 30)), WRONG_JOINT_NEWS)
+EVENT_ARGUMENT = ("event", 1, WRONG_EVENTS)
 
-# Each function with the name, a right value and the wrong ones of each argument that it refuses.
+REPAIR = ((7, 12, 30), ((0, 0, 7, ()), (1, 7, 12, ((0, "low"),)), (2, 9, 30, ())))
+
+# Each function with the name, a right value and the wrong ones of each argument that it refuses. Every value is valid
+# as what is judged, so that it has no wrong ones.
 REFUSING = (
     (keeps, (NET_ARGUMENT, TIMES_ARGUMENT)),
     (excess, (NET_ARGUMENT, TIMES_ARGUMENT)),
     (first_broken, (NET_ARGUMENT, TIMES_ARGUMENT)),
     (edges, (NET_ARGUMENT,)),
-    # Every value is valid as the last argument, so that it has no wrong ones.
-    (is_walk, (NET_ARGUMENT, ("start", 0, WRONG_EVENTS), ("end", 1, WRONG_EVENTS), ("value", ((0, "high"),), ()))),
+    (is_walk, (NET_ARGUMENT, START_ARGUMENT, END_ARGUMENT, ("value", ((0, "high"),), ()))),
     (walk_length, (NET_ARGUMENT, ("walk", ((0, "high"), (0, "low")), WRONG_WALKS))),
     (turned, (NET_ARGUMENT,)),
     (renamed, (NET_ARGUMENT, ("order", (2, 0, 1), WRONG_ORDERS))),
     (part, (NET_ARGUMENT, ("chosen", (0, 2), WRONG_CHOICES))),
     (with_rule, (NET_ARGUMENT, ("rule", (2, 0, None, 4), WRONG_RULES))),
+    (can_keep, (NET_ARGUMENT,)),
+    (tight, (NET_ARGUMENT,)),
+    (told_round, (NET_ARGUMENT,)),
+    (some_heights, (NET_ARGUMENT,)),
+    (shows_kept, (NET_ARGUMENT, ("value", (0, 5, 5), ()))),
+    (shows_round, (NET_ARGUMENT, ("value", ((0, "high"), (0, "low")), ()))),
+    (bound_evidence, (NET_ARGUMENT, START_ARGUMENT, END_ARGUMENT)),
+    (accepts_bound, (
+        NET_ARGUMENT, START_ARGUMENT, END_ARGUMENT, ("number", 10, ()), ("value", (((0, "high"),), (0, 10, 10)), ()),
+    )),
+    (fit, (KEPT_NET_ARGUMENT, JOINT_ARGUMENT)),
+    (told, (KEPT_NET_ARGUMENT, KEPT_TIMES_ARGUMENT, ("news", (2, 30), WRONG_NEWS))),
+    (repaired, (KEPT_NET_ARGUMENT, KEPT_TIMES_ARGUMENT, JOINT_ARGUMENT)),
+    (repair, (KEPT_NET_ARGUMENT, KEPT_TIMES_ARGUMENT, JOINT_ARGUMENT)),
+    (accepts_repair, (KEPT_NET_ARGUMENT, KEPT_TIMES_ARGUMENT, JOINT_ARGUMENT, ("value", REPAIR, ()))),
+    (fits, (NET_ARGUMENT, ROW_ARGUMENT)),
+    (evidence_for, (NET_ARGUMENT, ROW_ARGUMENT)),
+    (accepts_evidence, (NET_ARGUMENT, ROW_ARGUMENT, ("value", ("barred", (0, 2, ())), ()))),
+    (window, (NET_ARGUMENT, FITTING_ROW_ARGUMENT, EVENT_ARGUMENT)),
+    (fitting_beginning, (NET_ARGUMENT, ROW_ARGUMENT)),
+    (states, (NET_ARGUMENT, KEPT_TIMES_ARGUMENT, ROW_ARGUMENT)),
+    (behind, (NET_ARGUMENT, KEPT_TIMES_ARGUMENT, ROW_ARGUMENT)),
+    (limits, (NET_ARGUMENT, ROW_ARGUMENT)),
+    (settled, (NET_ARGUMENT, ROW_ARGUMENT)),
+    (limit_evidence, (NET_ARGUMENT, ROW_ARGUMENT, EVENT_ARGUMENT)),
+    (accepts_limits, (
+        NET_ARGUMENT, ("row", ((0, 7),), WRONG_ROWS), EVENT_ARGUMENT, ("pair", (12, 17), ()),
+        ("value", limit_evidence(NET, ((0, 7),), 1), ()),
+    )),
 )
+
+# The functions that raise NotPossible("net"), once all arguments are found right.
+NEEDING_A_KEPT_NET = (
+    tight, bound_evidence, fits, evidence_for, window, fitting_beginning, limits, settled, limit_evidence,
+    accepts_limits,
+)
+# The judges and the questions that have an answer for every net.
+NOT_NEEDING_IT = (can_keep, told_round, some_heights, shows_kept, shows_round, accepts_bound, accepts_evidence)
+LOST_NETS_OF_THREE = tuple(net for net in LOST_NETS if net[0] == 3)
 
 
 class RefusalTest(unittest.TestCase):
@@ -64,6 +122,87 @@ class RefusalTest(unittest.TestCase):
         self.assert_refused("walk", walk_length, ((2, ()), ((0, "high"),)))
 
 
+class NotPossibleTest(unittest.TestCase):
+    def assert_not_possible(self, why, function, values):
+        with self.assertRaises(NotPossible, msg=(function, values)) as caught:
+            function(*values)
+        self.assertEqual(caught.exception.why, why, (function, values))
+
+    def test_a_net_that_cannot_be_kept_is_refused_behind_all_wrong_arguments(self):
+        self.assertGreater(len(LOST_NETS_OF_THREE), 2)
+        for function, arguments in REFUSING:
+            if function not in NEEDING_A_KEPT_NET + NOT_NEEDING_IT:
+                continue
+            for net in LOST_NETS_OF_THREE:
+                right = [value for _, value, _ in arguments[1:]]
+                if function in NEEDING_A_KEPT_NET:
+                    self.assert_not_possible("net", function, [net] + right)
+                else:
+                    function(net, *right)
+                for k, (name, _, wrong) in enumerate(arguments[1:]):
+                    for value in wrong:
+                        with self.assertRaises(BadValue) as caught:
+                            function(net, *right[:k], value, *right[k + 1:])
+                        self.assertEqual(caught.exception.name, name)
+
+    def test_times_of_a_net_that_cannot_be_kept_never_keep_it(self):
+        for function in (states, behind):
+            for net in LOST_NETS_OF_THREE:
+                for times in ((0, 7, 9), (0, 0, 0), None):
+                    with self.assertRaises(BadValue) as caught:
+                        function(net, times, ())
+                    self.assertEqual(caught.exception.name, "times")
+
+    def test_news_that_do_not_fit_are_refused_last(self):
+        apart = ((0, 7), (1, 20))
+        for function, more in ((repaired, ()), (repair, ()), (accepts_repair, (None,))):
+            self.assert_not_possible("apart", function, (NET, (0, 7, 9), apart, *more))
+            for values, name in (
+                ((LOST_NETS_OF_THREE[0], (0, 7, 9), apart), "net"), ((NET, (0, 4, 9), apart), "times"),
+                ((NET, (0, 7, 9), apart + ((0, 7),)), "row"),
+            ):
+                with self.assertRaises(BadValue) as caught:
+                    function(*values, *more)
+                self.assertEqual(caught.exception.name, name)
+        self.assertIs(fit(NET, apart), False)
+        self.assert_not_possible("apart", window, (NET, apart, 2))
+        self.assert_not_possible("net", window, (LOST_NETS_OF_THREE[0], apart, 2))
+        with self.assertRaises(BadValue) as caught:
+            window(NET, apart, 3)
+        self.assertEqual(caught.exception.name, "event")
+
+    def test_what_is_let(self):
+        self.assertIs(fits(NET, ((0, -500), (0, 500)) * 4), False)
+        self.assertIs(fits(NET, ((0, 500),) * 8), True)
+        self.assertEqual(limits(NET, ((0, -500), (0, 500)) * 4)[0], (500, 500))
+        self.assertEqual(told(NET, (0, 7, 9), (2, -500)), (-505, -500, -500))
+        self.assertIs(fit((6, ()), tuple((event, -500) for event in range(6))), True)
+        self.assertEqual(states((1, ()), (1000,), ((0, 500),) * 8), ((500,),) * 8)
+
+
+class EventsOfTheNetTest(unittest.TestCase):
+    def test_news_and_events_have_to_be_those_of_the_net(self):
+        net, times = (2, ()), (0, 0)
+        for name, function, values in (
+            ("start", bound_evidence, (net, 2, 2)), ("end", bound_evidence, (net, 1, 2)),
+            ("start", accepts_bound, (net, 2, 2, 0, None)), ("end", accepts_bound, (net, 1, 2, 0, None)),
+            ("news", told, (net, times, (2, 0))), ("row", fit, (net, ((2, 0),))),
+            ("times", told, (net, (0, 0, 0), (2, 0))), ("times", repair, (net, (0,), ((2, 0),))),
+            ("row", repaired, (net, times, ((2, 0),))), ("row", repair, (net, times, ((2, 0),))),
+            ("row", accepts_repair, (net, times, ((2, 0),), None)),
+            ("row", fits, (net, ((2, 0),))), ("row", evidence_for, (net, ((2, 0),))),
+            ("row", accepts_evidence, (net, ((2, 0),), None)), ("row", window, (net, ((2, 0),), 2)),
+            ("event", window, (net, ((1, 0),), 2)), ("row", fitting_beginning, (net, ((1, 0), (2, 0)))),
+            ("times", states, (net, (0, 0, 0), ((2, 0),))), ("row", states, (net, times, ((2, 0),))),
+            ("row", behind, (net, times, ((2, 0),))), ("row", limits, (net, ((2, 0),))),
+            ("row", settled, (net, ((2, 0),))), ("event", limit_evidence, (net, ((1, 0),), 2)),
+            ("event", accepts_limits, (net, ((1, 0),), 2, None, None)),
+        ):
+            with self.assertRaises(BadValue, msg=(function, values)) as caught:
+                function(*values)
+            self.assertEqual(caught.exception.name, name, (function, values))
+
+
 class NothingIsModifiedTest(unittest.TestCase):
     def test_equal_arguments_have_equal_results(self):
         for function, arguments in REFUSING:
@@ -84,6 +223,19 @@ class NothingIsModifiedTest(unittest.TestCase):
         wrong = [(0, "high")]
         self.assertIs(is_walk(NET, 0, 1, wrong), False)
         self.assertEqual(wrong, [(0, "high")])
+
+    def test_lists_that_are_judged_stay_as_they_are(self):
+        for function, values in (
+            (shows_kept, (NET, [0, 5, 5])), (shows_round, (NET, [(0, "high"), (0, "low")])),
+            (accepts_bound, (NET, 0, 1, 10, [[(0, "high")], [0, 10, 10]])),
+            (accepts_bound, (NET, 0, 1, [10], (((0, "high"),), [0, 10, 10]))),
+            (accepts_repair, (NET, (0, 7, 9), ((0, 7), (2, 30)), (REPAIR[0], list(REPAIR[1])))),
+            (accepts_evidence, (NET, ((0, 7),), ["fits", [7, 12, 12]])),
+            (accepts_limits, (NET, ((0, 7),), 1, [12, 17], list(limit_evidence(NET, ((0, 7),), 1)))),
+        ):
+            before = copy.deepcopy(values)
+            self.assertIs(function(*values), False, function)
+            self.assertEqual(values, before, function)
 
     def test_a_refusal_has_no_effect_on_later_calls(self):
         for function, arguments in REFUSING:

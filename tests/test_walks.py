@@ -4,24 +4,9 @@ import unittest
 from itertools import product
 
 from allbide.nets import edges, is_walk, keeps, walk_length
-from tests.samples import NET, WRONG_WALKS, sample_nets, sample_times
+from tests.samples import NET, WRONG_WALKS, sample_nets, sample_times, walks_up_to
 
 ROUND_NET = (3, ((0, 1, 5, 10), (1, 2, -4, None), (0, 2, None, 60)))
-
-
-def walks_up_to(net, most):
-    """All walks of at most so many edges, each with its start, end and length."""
-    found = [((), event, event, 0) for event in range(net[0])]
-    longest = found
-    for _ in range(most):
-        longest = [
-            (walk + (edge,), first, end, length + weight)
-            for walk, first, last, length in longest
-            for edge, start, end, weight in edges(net)
-            if start == last
-        ]
-        found = found + longest
-    return found
 
 
 class EdgesTest(unittest.TestCase):

@@ -1,0 +1,109 @@
+"""What the document says, worked out in other ways than the program does, for small numbers."""
+
+from itertools import product
+
+from tests.samples import holds
+
+
+def is_right(net, heights):
+    """Tell whether all rules of the net hold for the heights."""
+    return all(holds(rule, heights) for rule in net[1])
+
+
+def right_heights(net, least, greatest):
+    """All right heights with numbers from the least to the greatest one."""
+    return [
+        heights for heights in product(range(least, greatest + 1), repeat=net[0]) if is_right(net, heights)
+    ]
+
+
+def distances(net):
+    """The tight bounds as lists, by Floyd and Warshall, or None if the net cannot be kept."""
+    size, rules = net
+    bounds = [[0 if i == j else None for j in range(size)] for i in range(size)]
+    for start, end, low, high in rules:
+        for i, j, weight in ((start, end, high), (end, start, None if low is None else -low)):
+            if weight is not None and (bounds[i][j] is None or weight < bounds[i][j]):
+                bounds[i][j] = weight
+    for k, i, j in product(range(size), repeat=3):
+        if bounds[i][k] is not None and bounds[k][j] is not None:
+            through = bounds[i][k] + bounds[k][j]
+            if bounds[i][j] is None or through < bounds[i][j]:
+                bounds[i][j] = through
+    return None if any(bounds[i][i] < 0 for i in range(size)) else bounds
+
+
+def all_fit(net, row):
+    """Tell whether each two pieces of news of the row fit, as point 31 says it."""
+    bounds = distances(net)
+    return all(
+        bounds[e][f] is None or w - v <= bounds[e][f]
+        for e, v in row for f, w in row
+    )
+
+
+def told_one(net, heights, news):
+    """The heights behind one piece of news, as point 32 says it."""
+    bounds = distances(net)
+    event, time = news
+    found = []
+    for c, height in enumerate(heights):
+        if bounds[c][event] is not None:
+            height = max(height, time - bounds[c][event])
+        if bounds[event][c] is not None:
+            height = min(height, time + bounds[event][c])
+        found.append(height)
+    return tuple(found)
+
+
+def told_all(net, heights, row):
+    """The heights behind a row of news, told piece by piece."""
+    for news in row:
+        heights = told_one(net, heights, news)
+    return heights
+
+
+def some_places(events, bounds, starts):
+    """All possible places (point 77) with these events, bounds and starts."""
+    sides = [None, *product(events, bounds)]
+    return [
+        (upper, lower, start) for upper, lower, start in product(sides, sides, starts)
+        if upper is None or lower is None or upper[0] != lower[0] or upper[1] + lower[1] >= 0
+    ]
+
+
+def stepped_at(steps, place):
+    """The time to which the steps lead at a place, as points 62 and 78 say it."""
+    upper, lower, time = place
+    for word, event, told in steps:
+        if word == "raise" and upper is not None and upper[0] == event:
+            time = max(time, told - upper[1])
+        if word == "lower" and lower is not None and lower[0] == event:
+            time = min(time, told + lower[1])
+    return time
+
+
+def in_steps(row):
+    """The steps of a row of news."""
+    return [(word, event, time) for event, time in row for word in ("raise", "lower")]
+
+
+def told_places(first, second):
+    """The told places for two rows of news (point 80), those that are not possible left out."""
+    events = sorted({event for event, _ in first + second})
+    for a in events:
+        yield (a, 0), None, -10000
+    for b in events:
+        yield None, (b, 0), 10000
+    for a, b in product(events, repeat=2):
+        gaps = {v - w for e, v in first + second if e == a for f, w in first + second if f == b}
+        for s in sorted(gaps | {gap - 1 for gap in gaps}):
+            if a != b or s >= 0:
+                yield (a, s), (b, 0), -10000
+                yield (a, s), (b, 0), 10000
+
+
+def are_told_apart(first, second):
+    """Tell whether two rows of news lead to different times at some told place: whether they are not alike."""
+    one, other = in_steps(first), in_steps(second)
+    return any(stepped_at(one, place) != stepped_at(other, place) for place in told_places(first, second))
