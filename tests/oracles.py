@@ -88,6 +88,32 @@ def in_steps(row):
     return [(word, event, time) for event, time in row for word in ("raise", "lower")]
 
 
+def are_idle(steps, index, by):
+    """Tell whether the step with the index is idle by the other one, as point 64 says it."""
+    word, event, time = steps[index]
+    other_word, other_event, other_time = steps[by]
+    if index == by or (word, event) != (other_word, other_event):
+        return False
+    between = [step for step in steps[by + 1:index] if step[0] != word]
+    if word == "raise":
+        if by > index:
+            return other_time >= time
+        return other_time > time and all(e == event and time <= v for _, e, v in between)
+    if by > index:
+        return other_time <= time
+    return other_time < time and all(e == event and v <= time for _, e, v in between)
+
+
+def remaining_by_words(steps):
+    """The remaining steps, as point 66 says it."""
+    left = list(steps)
+    while True:
+        idle = [i for i in range(len(left)) if any(are_idle(left, i, j) for j in range(len(left)))]
+        if not idle:
+            return tuple(left)
+        del left[idle[0]]
+
+
 def told_places(first, second):
     """The told places for two rows of news (point 80), those that are not possible left out."""
     events = sorted({event for event, _ in first + second})

@@ -125,6 +125,29 @@ def some_rows(seed, many, size, most=8, far=25):
     ]
 
 
+def some_steps(seed, many, size, most=8, far=4):
+    """Tuples of steps of events of a net of this size."""
+    numbers = Numbers(seed)
+    return [
+        tuple(
+            (numbers.choice(("raise", "lower")), numbers.below(size), numbers.between(-far, far))
+            for _ in range(numbers.below(most + 1))
+        )
+        for _ in range(many)
+    ]
+
+
+def later_steps(steps, many):
+    """The steps with all times put later by this number."""
+    return tuple((word, event, time + many) for word, event, time in steps)
+
+
+def exchanged(steps):
+    """The steps with each raise exchanged for a lower, and the other way round, and each time multiplied by -1."""
+    words = {"raise": "lower", "lower": "raise"}
+    return tuple((words[word], event, -time) for word, event, time in steps)
+
+
 def later(row, many):
     """The row with all times put later by this number."""
     return tuple((event, time + many) for event, time in row)

@@ -5,14 +5,17 @@ import inspect
 import os
 import unittest
 
-from allbide import bounds, changes, effects, errors, fitting, nets, repair
+from allbide import alike, bounds, changes, effects, errors, fitting, idle, nets, repair, steps
+from allbide.alike import accepts_alike, alike_evidence, are_alike, left_out, shortest
 from allbide.bounds import (
     accepts_bound, bound_evidence, can_keep, shows_kept, shows_round, some_heights, tight, told_round,
 )
 from allbide.changes import part, renamed, turned, with_rule
 from allbide.effects import accepts_limits, behind, limit_evidence, limits, settled, states
 from allbide.fitting import accepts_evidence, evidence_for, fits, fitting_beginning, window
+from allbide.idle import idle_steps, is_idle_by, reduced, reduction, remaining
 from allbide.nets import edges, excess, first_broken, is_walk, keeps, walk_length
+from allbide.steps import commute, layers, stepped, steps_of
 
 FUNCTIONS = (
     (nets, "is_net", ["value"]),
@@ -51,6 +54,20 @@ FUNCTIONS = (
     (effects, "settled", ["net", "row"]),
     (effects, "limit_evidence", ["net", "row", "event"]),
     (effects, "accepts_limits", ["net", "row", "event", "pair", "value"]),
+    (steps, "steps_of", ["row"]),
+    (steps, "commute", ["one", "other"]),
+    (steps, "stepped", ["net", "times", "steps"]),
+    (steps, "layers", ["steps"]),
+    (idle, "is_idle_by", ["steps", "index", "by"]),
+    (idle, "idle_steps", ["steps"]),
+    (idle, "remaining", ["steps"]),
+    (idle, "reduction", ["steps"]),
+    (idle, "reduced", ["steps", "value"]),
+    (alike, "are_alike", ["first", "second"]),
+    (alike, "alike_evidence", ["first", "second"]),
+    (alike, "accepts_alike", ["first", "second", "value"]),
+    (alike, "shortest", ["row"]),
+    (alike, "left_out", ["row"]),
 )
 
 CLASSES = (
@@ -95,6 +112,9 @@ class KindsTest(unittest.TestCase):
             repair.repair(net, times, row), evidence_for(net, row), evidence_for(net, ((0, 7), (1, 20))),
             window(net, row, 1), states(net, times, row), behind(net, times, row), behind(net, times, ()),
             limits(net, row), settled(net, row), limit_evidence(net, row, 2),
+            steps_of(row), stepped(net, times, steps_of(row)), stepped(net, times, ()), layers(steps_of(row)),
+            layers(()), idle_steps(steps_of(row)), remaining(steps_of(row)), reduction(steps_of(row)),
+            reduced(steps_of(row), ()), alike_evidence(row, row), shortest(row), left_out(row),
         ):
             self.assertIs(type(value), tuple)
             self.assertFalse(contains_list(value), value)
@@ -203,6 +223,47 @@ class ExamplesTest(unittest.TestCase):
         for pair, expected in (((30, None), True), ((30, 31), False)):
             evidence = limit_evidence(net, ((1, 30),), 2)
             self.assertIs(accepts_limits(net, ((1, 30),), 2, pair, evidence), expected)
+
+    def test_the_examples_of_idle(self):
+        told = steps_of(((0, 7), (0, 9)))
+        self.assertEqual(told, (("raise", 0, 7), ("lower", 0, 7), ("raise", 0, 9), ("lower", 0, 9)))
+        self.assertEqual(
+            (commute(("raise", 0, 7), ("lower", 0, 9)), commute(told[1], told[2]),
+             commute(("raise", 0, 1), ("lower", 1, 5))),
+            (True, False, False),
+        )
+        self.assertEqual(
+            (idle_steps(told), is_idle_by(told, 0, 2), is_idle_by(told, 3, 1)),
+            ((0, 3), True, True),
+        )
+        self.assertEqual(
+            (remaining(told), reduction(told), reduced(told, ((0, 2),))),
+            (
+                (("lower", 0, 7), ("raise", 0, 9)),
+                ((0, 2), (3, 1)),
+                (("lower", 0, 7), ("raise", 0, 9), ("lower", 0, 9)),
+            ),
+        )
+        self.assertEqual(
+            (layers(remaining(told)), reduced(told, ((1, 3),)) is None),
+            (((("lower", 0, 7),), (("raise", 0, 9),)), True),
+        )
+        self.assertEqual(stepped((2, ((0, 1, 5, 10),)), (0, 8), (("raise", 0, 7), ("lower", 1, 11))), (6, 11))
+
+    def test_the_examples_of_alike(self):
+        twice, once = ((0, 7), (0, 7)), ((0, 7),)
+        self.assertEqual(
+            (are_alike(twice, once), are_alike(((0, 7), (0, 9)), ((0, 9),)), alike_evidence(twice, once)),
+            (True, False, (((0, 2), (1, 3)), ())),
+        )
+        self.assertEqual(
+            (shortest(((0, 7), (0, 7), (1, 3))), left_out(((0, 7), (0, 7), (1, 3)))),
+            (((0, 7), (1, 3)), (0,)),
+        )
+        self.assertEqual(
+            (accepts_alike(twice, once, (((0, 2), (1, 3)), ())), accepts_alike(once, ((0, 9),), ((), ()))),
+            (True, False),
+        )
 
     def test_the_examples_of_the_readme(self):
         found = doctest.testfile(README, module_relative=False)

@@ -1,8 +1,9 @@
-"""Points 2, 8, 17, 28, 40, 50 and 60: wrong arguments in the order of the parameters, and nothing is modified."""
+"""Points 2, 8, 17, 28, 40, 50, 60, 72, 84: wrong arguments in the order of the parameters; nothing is modified."""
 
 import copy
 import unittest
 
+from allbide.alike import accepts_alike, alike_evidence, are_alike, left_out, shortest
 from allbide.bounds import (
     accepts_bound, bound_evidence, can_keep, shows_kept, shows_round, some_heights, tight, told_round,
 )
@@ -10,11 +11,13 @@ from allbide.changes import part, renamed, turned, with_rule
 from allbide.effects import accepts_limits, behind, limit_evidence, limits, settled, states
 from allbide.errors import BadValue, NotPossible
 from allbide.fitting import accepts_evidence, evidence_for, fits, fitting_beginning, window
+from allbide.idle import idle_steps, is_idle_by, reduced, reduction, remaining
 from allbide.nets import edges, excess, first_broken, is_net, is_times, is_walk, keeps, walk_length
 from allbide.repair import accepts_repair, fit, repair, repaired, told
+from allbide.steps import commute, layers, stepped, steps_of
 from tests.samples import (
-    LOST_NETS, NET, WRONG_CHOICES, WRONG_EVENTS, WRONG_JOINT_NEWS, WRONG_NETS, WRONG_NEWS, WRONG_ORDERS, WRONG_ROWS,
-    WRONG_RULES, WRONG_TIMES, WRONG_WALKS,
+    LOST_NETS, NET, NO_INTEGERS, WRONG_CHOICES, WRONG_EVENTS, WRONG_FREE_ROWS, WRONG_JOINT_NEWS, WRONG_NETS,
+    WRONG_NEWS, WRONG_ORDERS, WRONG_ROWS, WRONG_RULES, WRONG_STEP_TUPLES, WRONG_STEPS, WRONG_TIMES, WRONG_WALKS,
 )
 
 NET_ARGUMENT = ("net", NET, WRONG_NETS)
@@ -30,6 +33,13 @@ ROW_ARGUMENT = ("row", ((0, 7), (2, 30), (0, 8)), WRONG_ROWS)
 FITTING_ROW_ARGUMENT = ("row", ((0, 7), (2, 30), (0, 7)), WRONG_ROWS)
 JOINT_ARGUMENT = ("row", ((0, 7), (2, 30)), WRONG_JOINT_NEWS)
 EVENT_ARGUMENT = ("event", 1, WRONG_EVENTS)
+
+FREE_ROW_ARGUMENT = ("row", ((0, 7), (5, 30), (0, 7)), WRONG_FREE_ROWS)
+FIRST_ARGUMENT = ("first", ((0, 7), (0, 7)), WRONG_FREE_ROWS)
+SECOND_ARGUMENT = ("second", ((0, 7),), WRONG_FREE_ROWS)
+STEPS = (("raise", 0, 7), ("lower", 1, 7), ("raise", 0, 9))
+STEPS_ARGUMENT = ("steps", STEPS, WRONG_STEP_TUPLES)
+WRONG_INDEXES = (-1, 3, 100, -3, *NO_INTEGERS)
 
 REPAIR = ((7, 12, 30), ((0, 0, 7, ()), (1, 7, 12, ((0, "low"),)), (2, 9, 30, ())))
 
@@ -75,6 +85,23 @@ REFUSING = (
         NET_ARGUMENT, ("row", ((0, 7),), WRONG_ROWS), EVENT_ARGUMENT, ("pair", (12, 17), ()),
         ("value", limit_evidence(NET, ((0, 7),), 1), ()),
     )),
+    (steps_of, (FREE_ROW_ARGUMENT,)),
+    (commute, (("one", STEPS[0], WRONG_STEPS), ("other", STEPS[1], WRONG_STEPS))),
+    # In a net of three events, steps of a greater one are wrong as well.
+    (stepped, (KEPT_NET_ARGUMENT, KEPT_TIMES_ARGUMENT, (
+        "steps", STEPS, WRONG_STEP_TUPLES + ((("raise", 3, 7),), STEPS + (("lower", 5, 7),)),
+    ))),
+    (layers, (STEPS_ARGUMENT,)),
+    (is_idle_by, (STEPS_ARGUMENT, ("index", 0, WRONG_INDEXES), ("by", 2, WRONG_INDEXES))),
+    (idle_steps, (STEPS_ARGUMENT,)),
+    (remaining, (STEPS_ARGUMENT,)),
+    (reduction, (STEPS_ARGUMENT,)),
+    (reduced, (STEPS_ARGUMENT, ("value", ((0, 2),), ()))),
+    (are_alike, (FIRST_ARGUMENT, SECOND_ARGUMENT)),
+    (alike_evidence, (FIRST_ARGUMENT, SECOND_ARGUMENT)),
+    (accepts_alike, (FIRST_ARGUMENT, SECOND_ARGUMENT, ("value", (((0, 2), (1, 3)), ()), ()))),
+    (shortest, (FREE_ROW_ARGUMENT,)),
+    (left_out, (FREE_ROW_ARGUMENT,)),
 )
 
 # The functions that raise NotPossible("net"), once all arguments are found right.
@@ -179,6 +206,25 @@ class NotPossibleTest(unittest.TestCase):
         self.assertIs(fit((6, ()), tuple((event, -500) for event in range(6))), True)
         self.assertEqual(states((1, ()), (1000,), ((0, 500),) * 8), ((500,),) * 8)
 
+    def test_what_is_let_without_a_net(self):
+        row = ((5, 500), (0, -500)) * 4
+        steps = steps_of(row)
+        self.assertEqual(len(steps), 16)
+        self.assertIs(are_alike(row, row), True)
+        self.assertIs(accepts_alike(row, row, alike_evidence(row, row)), True)
+        self.assertEqual(shortest(row), row[-2:])
+        self.assertEqual(left_out(row), (0, 1, 2, 3, 4, 5))
+        self.assertEqual(remaining(steps), steps[-4:])
+        self.assertEqual(reduced(steps, reduction(steps)), steps[-4:])
+        self.assertEqual(idle_steps(steps), tuple(range(12)))
+        self.assertIs(is_idle_by(steps, 0, 12), True)
+        self.assertIs(is_idle_by(steps, 15, 0), False)
+        self.assertIs(commute(("raise", 5, 500), ("lower", 5, -500)), False)
+        self.assertEqual(layers(steps), tuple(steps[k:k + 2] for k in range(0, 16, 2)))
+        self.assertEqual(stepped((6, ()), (0,) * 6, steps), (-500, 0, 0, 0, 0, 500))
+        for function in (layers, idle_steps, remaining, reduction):
+            self.assertEqual(function(()), ())
+
 
 class EventsOfTheNetTest(unittest.TestCase):
     def test_news_and_events_have_to_be_those_of_the_net(self):
@@ -197,6 +243,11 @@ class EventsOfTheNetTest(unittest.TestCase):
             ("row", behind, (net, times, ((2, 0),))), ("row", limits, (net, ((2, 0),))),
             ("row", settled, (net, ((2, 0),))), ("event", limit_evidence, (net, ((1, 0),), 2)),
             ("event", accepts_limits, (net, ((1, 0),), 2, None, None)),
+            ("steps", stepped, (net, times, (("raise", 2, 0),))),
+            ("steps", stepped, (net, times, (("raise", 1, 0), ("lower", 2, 0)))),
+            ("times", stepped, (net, (0, 0, 0), (("raise", 2, 0),))),
+            ("index", is_idle_by, ((), 0, 0)), ("index", is_idle_by, (STEPS[:2], 2, 2)),
+            ("by", is_idle_by, (STEPS[:2], 1, 2)),
         ):
             with self.assertRaises(BadValue, msg=(function, values)) as caught:
                 function(*values)
@@ -232,9 +283,11 @@ class NothingIsModifiedTest(unittest.TestCase):
             (accepts_repair, (NET, (0, 7, 9), ((0, 7), (2, 30)), (REPAIR[0], list(REPAIR[1])))),
             (accepts_evidence, (NET, ((0, 7),), ["fits", [7, 12, 12]])),
             (accepts_limits, (NET, ((0, 7),), 1, [12, 17], list(limit_evidence(NET, ((0, 7),), 1)))),
+            (accepts_alike, (((0, 7), (0, 7)), ((0, 7),), [[[0, 2], [1, 3]], []])),
+            (reduced, (STEPS, [[0, 2]])),
         ):
             before = copy.deepcopy(values)
-            self.assertIs(function(*values), False, function)
+            self.assertIs(function(*values), None if function is reduced else False, function)
             self.assertEqual(values, before, function)
 
     def test_a_refusal_has_no_effect_on_later_calls(self):
