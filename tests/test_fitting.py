@@ -230,6 +230,10 @@ class BarrierTest(unittest.TestCase):
         for word in ("fits", "Barred", "bar", None, AnyEqual(), b"barred"):
             self.assertIs(accepts_evidence(NET, row, (word, (1, 2, walk))), False, word)
         self.assertIs(accepts_evidence(NET, (), ("barred", (0, 0, ()))), False)
+        # Indexes below 0 name no piece of news, also where one counted from the end would be right.
+        self.assertIs(accepts_evidence(NET, ((1, 20), (0, 7)), ("barred", (1, 0, walk))), True)
+        for i, j in ((-1, 0), (1, -2), (-1, -2)):
+            self.assertIs(accepts_evidence(NET, ((1, 20), (0, 7)), ("barred", (i, j, walk))), False)
 
     def test_the_length_has_to_be_less(self):
         for time, right in ((16, False), (17, False), (18, True)):

@@ -25,7 +25,11 @@ TIMES_ARGUMENT = ("times", (0, 7, 9), WRONG_TIMES)
 # Where a net has to be one that can be kept, and times have to keep it.
 KEPT_NET_ARGUMENT = ("net", NET, WRONG_NETS + LOST_NETS)
 KEPT_TIMES_ARGUMENT = (
-    "times", (0, 7, 9), WRONG_TIMES + ((0, 4, 9), (0, 11, 12), (0, 7, 6), (7, 0, 9), (0, 0, 0), (1000, 1000, 1000)),
+    "times", (0, 7, 9), WRONG_TIMES + (
+        (0, 4, 9), (0, 11, 12), (0, 7, 6), (7, 0, 9), (0, 0, 0), (1000, 1000, 1000),
+        # The rules hold for these, but they are no times.
+        (0, 7, 1001), (995, 1001, 1001), (-1001, -994, 0), (0, 7, 9, 9), [0, 7, 9], (False, 7, 9),
+    ),
 )
 START_ARGUMENT = ("start", 0, WRONG_EVENTS)
 END_ARGUMENT = ("end", 1, WRONG_EVENTS)
