@@ -1,6 +1,6 @@
 """What the document says, worked out in other ways than the program does, for small numbers."""
 
-from itertools import product
+from itertools import combinations, product
 
 from tests.samples import holds
 
@@ -133,3 +133,53 @@ def are_told_apart(first, second):
     """Tell whether two rows of news lead to different times at some told place: whether they are not alike."""
     one, other = in_steps(first), in_steps(second)
     return any(stepped_at(one, place) != stepped_at(other, place) for place in told_places(first, second))
+
+
+def told_jointly(net, heights, row):
+    """The heights behind joint news that fit, as point 33 says it."""
+    bounds = distances(net)
+    found = []
+    for c, height in enumerate(heights):
+        lows = [v - bounds[c][e] for e, v in row if bounds[c][e] is not None]
+        highs = [v + bounds[e][c] for e, v in row if bounds[e][c] is not None]
+        found.append(min([max([height, *lows]), *highs]))
+    return tuple(found)
+
+
+def all_sets(size):
+    """All sets of events of a net of this size, ascending tuples, those with fewer events first, then in order."""
+    return [chosen for many in range(size + 1) for chosen in combinations(range(size), many)]
+
+
+def leading_sets(net, first, second):
+    """All sets of events that lead from the first to the second times, as point 86 says it, the least ones first."""
+    return [
+        chosen for chosen in all_sets(net[0])
+        if told_jointly(net, first, tuple((event, second[event]) for event in chosen)) == second
+    ]
+
+
+def does_carry(net, first, second, e, c):
+    """Tell whether the event e carries the event c, as point 87 says it."""
+    bounds = distances(net)
+    if e == c:
+        return False
+    if second[c] > first[c]:
+        return bounds[c][e] is not None and second[e] - second[c] == bounds[c][e]
+    if second[c] < first[c]:
+        return bounds[e][c] is not None and second[c] - second[e] == bounds[e][c]
+    return False
+
+
+def sources_by_words(net, first, second):
+    """The sources, as point 89 says it."""
+    size = net[0]
+    carrying = {(e, c) for e in range(size) for c in range(size) if does_carry(net, first, second, e, c)}
+    moving = [e for e in range(size) if first[e] != second[e]]
+    bundles = {
+        tuple(c for c in moving if c == e or ((e, c) in carrying and (c, e) in carrying)) for e in moving
+    }
+    return sorted(
+        bundle for bundle in bundles
+        if not any((e, c) in carrying for c in bundle for e in range(size) if e not in bundle)
+    )

@@ -125,6 +125,27 @@ def some_rows(seed, many, size, most=8, far=25):
     ]
 
 
+def short_rows(most, news):
+    """All rows of at most so many of these pieces of news."""
+    return [row for many in range(most + 1) for row in product(news, repeat=many)]
+
+
+def like_rows(seed, many, size):
+    """Pairs of rows of which many are alike: the second one is the first one with pieces told again or left out."""
+    numbers = Numbers(seed)
+    found = []
+    for row in some_rows(seed, many, size, far=2):
+        other = list(row)
+        for _ in range(numbers.below(3)):
+            place = numbers.below(len(other) + 1)
+            if other and numbers.below(2):
+                del other[min(place, len(other) - 1)]
+            elif other and len(other) < 8:
+                other.insert(place, other[place - 1])
+        found.append((row, tuple(other)))
+    return found
+
+
 def some_steps(seed, many, size, most=8, far=4):
     """Tuples of steps of events of a net of this size."""
     numbers = Numbers(seed)
@@ -291,4 +312,27 @@ WRONG_STEP_TUPLES = (
     *[(step,) for step in WRONG_STEPS],
     *[(("lower", 1, 3), step) for step in WRONG_STEPS],
     (("raise", 0, 7),) * 17, tuple(("lower", k % 6, k) for k in range(17)),
+)
+
+WRONG_SIDES = (
+    True, False, 0, "", (), (0,), (0, 3, 3), [0, 3], {0: 3}, ((0, 3),), AnyEqual(),
+    *[(event, 3) for event in (-1, 6, *NO_INTEGERS)],
+    *[(0, bound) for bound in (-2001, 2001, *NO_INTEGERS)],
+)
+
+WRONG_PLACES = (
+    None, True, 0, "", "abc", (), (None,), (None, None), (None, None, 0, 0), [None, None, 0], (0, 3), {}, AnyEqual(),
+    ((0, 3), (1, 3)), [(0, 3), (1, 3), 0], ((0, 3), (1, 3), 0, 0),
+    *[(side, None, 0) for side in WRONG_SIDES], *[(None, side, 0) for side in WRONG_SIDES],
+    *[(side, (1, 3), 0) for side in WRONG_SIDES], *[((1, 3), side, 0) for side in WRONG_SIDES],
+    *[(None, None, start) for start in (-10001, 10001, *NO_INTEGERS)],
+    *[((0, 3), (1, 3), start) for start in (-10001, 10001, *NO_INTEGERS)],
+    ((0, 3), (0, -4), 0), ((5, -1), (5, 0), 0), ((5, -2000), (5, 1999), 0),
+)
+
+WRONG_SETS = tuple(value for value in WRONG_CHOICES if value != ())
+
+WRONG_TEXTS = (
+    None, True, 0, 3.5, b"3:", b"", ["3:"], ("3:",), (), [], {}, AnyEqual(), "3:\n", "\n", "a = 5\n", "xy\n", " " * 601,
+    "a" * 601, "3:" + " " * 600, "a = 5" + "\n" * 600,
 )

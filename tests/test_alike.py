@@ -8,29 +8,7 @@ from allbide.effects import behind
 from allbide.idle import reduced, reduction, remaining
 from allbide.steps import layers, steps_of
 from tests.oracles import are_told_apart
-from tests.samples import AnyEqual, Numbers, kept_pairs, later, some_rows
-
-
-def short_rows(most, news):
-    """All rows of at most so many of these pieces of news."""
-    return [row for many in range(most + 1) for row in product(news, repeat=many)]
-
-
-def like_rows(seed, many, size):
-    """Pairs of rows of which many are alike: the second one is the first one with pieces told again or left out."""
-    numbers = Numbers(seed)
-    found = []
-    for row in some_rows(seed, many, size, far=2):
-        other = list(row)
-        for _ in range(numbers.below(3)):
-            place = numbers.below(len(other) + 1)
-            if other and numbers.below(2):
-                del other[min(place, len(other) - 1)]
-            elif other and len(other) < 8:
-                other.insert(place, other[place - 1])
-        found.append((row, tuple(other)))
-    return found
-
+from tests.samples import AnyEqual, kept_pairs, later, like_rows, short_rows, some_rows
 
 SMALL_NEWS = ((0, 0), (0, 1), (1, 0), (1, 1))
 

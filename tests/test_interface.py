@@ -5,7 +5,9 @@ import inspect
 import os
 import unittest
 
-from allbide import alike, bounds, changes, effects, errors, fitting, idle, nets, repair, steps
+from allbide import (
+    alike, bounds, changes, effects, errors, fitting, idle, nets, places, repair, scanning, steps, telling, ways,
+)
 from allbide.alike import accepts_alike, alike_evidence, are_alike, left_out, shortest
 from allbide.bounds import (
     accepts_bound, bound_evidence, can_keep, shows_kept, shows_round, some_heights, tight, told_round,
@@ -15,7 +17,11 @@ from allbide.effects import accepts_limits, behind, limit_evidence, limits, sett
 from allbide.fitting import accepts_evidence, evidence_for, fits, fitting_beginning, window
 from allbide.idle import idle_steps, is_idle_by, reduced, reduction, remaining
 from allbide.nets import edges, excess, first_broken, is_walk, keeps, walk_length
+from allbide.places import accepts_separation, is_place, separation, time_at
+from allbide.scanning import scan
 from allbide.steps import commute, layers, stepped, steps_of
+from allbide.telling import Telling
+from allbide.ways import accepts_way, carries, leads, sources, way, way_evidence
 
 FUNCTIONS = (
     (nets, "is_net", ["value"]),
@@ -68,6 +74,25 @@ FUNCTIONS = (
     (alike, "accepts_alike", ["first", "second", "value"]),
     (alike, "shortest", ["row"]),
     (alike, "left_out", ["row"]),
+    (places, "is_place", ["value"]),
+    (places, "time_at", ["row", "place"]),
+    (places, "separation", ["first", "second"]),
+    (places, "accepts_separation", ["first", "second", "value"]),
+    (ways, "leads", ["net", "first", "second", "chosen"]),
+    (ways, "carries", ["net", "first", "second", "event", "other"]),
+    (ways, "sources", ["net", "first", "second"]),
+    (ways, "way", ["net", "first", "second"]),
+    (ways, "way_evidence", ["net", "first", "second"]),
+    (ways, "accepts_way", ["net", "first", "second", "row", "value"]),
+    (scanning, "scan", ["text"]),
+)
+
+# The classes of the interface that are no errors: their own parameters, and those of each method.
+OBJECTS = (
+    (telling, "Telling", ["net"], (
+        ("tell", ["event", "time"]), ("take_back", []), ("windows", []), ("told", []), ("heights", []),
+        ("evidence", ["event", "time"]), ("accepts", ["event", "time", "value"]),
+    )),
 )
 
 CLASSES = (
@@ -95,6 +120,16 @@ class NamesTest(unittest.TestCase):
             if parameters is not None:
                 self.assertEqual(list(inspect.signature(kind).parameters), parameters, name)
 
+    def test_classes_and_all_of_their_methods_are_defined_in_their_files(self):
+        for module, name, parameters, methods in OBJECTS:
+            kind = getattr(module, name)
+            self.assertEqual(kind.__module__, module.__name__, name)
+            self.assertEqual(list(inspect.signature(kind).parameters), parameters, name)
+            for method, own in methods:
+                # In the class itself, not only in a base class.
+                self.assertIn(method, vars(kind))
+                self.assertEqual(list(inspect.signature(getattr(kind, method)).parameters), ["self"] + own, method)
+
 
 def contains_list(value):
     return isinstance(value, list) or (isinstance(value, tuple) and any(contains_list(item) for item in value))
@@ -115,9 +150,28 @@ class KindsTest(unittest.TestCase):
             steps_of(row), stepped(net, times, steps_of(row)), stepped(net, times, ()), layers(steps_of(row)),
             layers(()), idle_steps(steps_of(row)), remaining(steps_of(row)), reduction(steps_of(row)),
             reduced(steps_of(row), ()), alike_evidence(row, row), shortest(row), left_out(row),
+            separation(((0, 7), (0, 9)), ((0, 9),)), way(net, (0, 5, 5), (7, 12, 13)), way(net, times, times),
+            way_evidence(net, (0, 5, 5), (7, 12, 13)),
         ):
             self.assertIs(type(value), tuple)
             self.assertFalse(contains_list(value), value)
+
+    def test_what_a_telling_returns(self):
+        begun = Telling((3, ((0, 1, 5, 10), (1, 2, 0, None))))
+        for value in (
+            begun.windows(), begun.told(), begun.heights(), begun.evidence(0, 7), begun.tell(0, 7), begun.windows(),
+            begun.told(), begun.heights(), begun.evidence(1, 7), begun.evidence(1, 13), begun.take_back(),
+        ):
+            self.assertIs(type(value), tuple)
+            self.assertFalse(contains_list(value), value)
+        for value in (begun.accepts(0, 7, None), is_place(None)):
+            self.assertIs(value, False)
+
+    def test_lists_are_returned_where_the_document_says_so(self):
+        net = (3, ((0, 1, 5, 10), (1, 2, 0, None)))
+        for value in (sources(net, (0, 5, 5), (7, 12, 13)), sources(net, (0, 5, 5), (0, 5, 5)), scan(""), scan("a")):
+            self.assertIs(type(value), list)
+            self.assertTrue(all(type(item) is tuple for item in value))
 
 
 class ExamplesTest(unittest.TestCase):
@@ -263,6 +317,48 @@ class ExamplesTest(unittest.TestCase):
         self.assertEqual(
             (accepts_alike(twice, once, (((0, 2), (1, 3)), ())), accepts_alike(once, ((0, 9),), ((), ()))),
             (True, False),
+        )
+
+    def test_the_examples_of_places(self):
+        self.assertEqual(
+            (separation(((0, 7), (0, 9)), ((0, 9),)), time_at(((0, 7), (0, 9)), (None, (0, 0), 10000))),
+            ((None, (0, 0), 10000), 7),
+        )
+        self.assertEqual(
+            (is_place(((0, 3), (0, -4), 0)), accepts_separation(((0, 7),), ((0, 9),), (None, (0, 2), 5))),
+            (False, False),
+        )
+
+    def test_the_examples_of_ways(self):
+        net = (3, ((0, 1, 5, 10), (1, 2, 0, None)))
+        low, high = (0, 5, 5), (7, 12, 12)
+        self.assertEqual((way(net, low, high), way(net, high, low)), (((0, 7),), ((2, 5),)))
+        self.assertEqual(
+            (sources(net, high, low), carries(net, low, high, 0, 2), carries(net, high, low, 2, 0)),
+            ([(2,)], True, True),
+        )
+        self.assertEqual(
+            (leads(net, low, high, (0,)), leads(net, low, high, (1, 2)), way(net, low, low)),
+            (True, False, ()),
+        )
+        self.assertIs(accepts_way(net, low, high, ((0, 7),), way_evidence(net, low, high)), True)
+
+    def test_the_examples_of_telling(self):
+        begun = Telling((3, ((0, 1, 5, 10), (1, 2, 0, None), (0, 2, None, 60))))
+        self.assertEqual(begun.windows(), ((None, None), (None, None), (None, None)))
+        self.assertEqual(begun.tell(1, 20), ((10, 15), (20, 20), (20, 75)))
+        self.assertEqual(
+            (begun.tell(2, 72), begun.told()),
+            (((12, 15), (20, 20), (72, 72)), ((1, 20), (2, 72))),
+        )
+        self.assertEqual(
+            (begun.accepts(0, 11, ("early", 2, ((2, "high"),))), begun.accepts(0, 12, ("fits", (12, 20, 72))),
+             begun.accepts(0, 16, ("late", 1, ((0, "low"),)))),
+            (True, True, True),
+        )
+        self.assertEqual(
+            (begun.take_back(), begun.windows()[0], begun.evidence(0, 14)[0]),
+            ((2, 72), (10, 15), "fits"),
         )
 
     def test_the_examples_of_the_readme(self):

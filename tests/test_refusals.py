@@ -1,4 +1,4 @@
-"""Points 2, 8, 17, 28, 40, 50, 60, 72, 84: wrong arguments in the order of the parameters; nothing is modified."""
+"""Points 2, 8, 17, 28, 40, 50, 60, 72, 84, 94, 104, 115: wrong arguments in the order of the parameters; nothing is modified."""
 
 import copy
 import unittest
@@ -13,11 +13,16 @@ from allbide.errors import BadValue, NotPossible
 from allbide.fitting import accepts_evidence, evidence_for, fits, fitting_beginning, window
 from allbide.idle import idle_steps, is_idle_by, reduced, reduction, remaining
 from allbide.nets import edges, excess, first_broken, is_net, is_times, is_walk, keeps, walk_length
+from allbide.places import accepts_separation, is_place, separation, time_at
 from allbide.repair import accepts_repair, fit, repair, repaired, told
+from allbide.scanning import scan
 from allbide.steps import commute, layers, stepped, steps_of
+from allbide.telling import Telling
+from allbide.ways import accepts_way, carries, leads, sources, way, way_evidence
 from tests.samples import (
     LOST_NETS, NET, NO_INTEGERS, WRONG_CHOICES, WRONG_EVENTS, WRONG_FREE_ROWS, WRONG_JOINT_NEWS, WRONG_NETS,
-    WRONG_NEWS, WRONG_ORDERS, WRONG_ROWS, WRONG_RULES, WRONG_STEP_TUPLES, WRONG_STEPS, WRONG_TIMES, WRONG_WALKS,
+    WRONG_NEWS, WRONG_ORDERS, WRONG_PLACES, WRONG_ROWS, WRONG_RULES, WRONG_SETS, WRONG_STEP_TUPLES, WRONG_STEPS,
+    WRONG_TEXTS, WRONG_TIMES, WRONG_WALKS,
 )
 
 NET_ARGUMENT = ("net", NET, WRONG_NETS)
@@ -45,7 +50,45 @@ STEPS = (("raise", 0, 7), ("lower", 1, 7), ("raise", 0, 9))
 STEPS_ARGUMENT = ("steps", STEPS, WRONG_STEP_TUPLES)
 WRONG_INDEXES = (-1, 3, 100, -3, *NO_INTEGERS)
 
+# The rules hold for these, but they are no times that a way can lead from or to.
+FAR_TIMES = ((0, 7, 501), (-501, -494, 0), (-501, -495, -495), (501, 506, 506), (500, 505, 505), (990, 1000, 1000))
+WAY_FIRST_ARGUMENT = ("first", (0, 5, 5), KEPT_TIMES_ARGUMENT[2] + FAR_TIMES)
+WAY_SECOND_ARGUMENT = ("second", (7, 12, 12), KEPT_TIMES_ARGUMENT[2] + FAR_TIMES)
+PLACE_ARGUMENT = ("place", (None, (0, 0), 10000), WRONG_PLACES)
+TEXT_ARGUMENT = ("text", "a - b = 5", WRONG_TEXTS)
+
 REPAIR = ((7, 12, 30), ((0, 0, 7, ()), (1, 7, 12, ((0, "low"),)), (2, 9, 30, ())))
+
+
+
+def begun(net):
+    """The windows of a telling of the net."""
+    return Telling(net).windows()
+
+
+def after_one():
+    """A telling in which 1 was told the time 12."""
+    telling = Telling(NET)
+    telling.tell(1, 12)
+    return telling
+
+
+def tell(event, time):
+    """The windows when the event is told the time, too."""
+    return after_one().tell(event, time)
+
+
+def evidence(event, time):
+    """The evidence of the telling about the event and the time."""
+    return after_one().evidence(event, time)
+
+
+def accepts(event, time, value):
+    """What the telling judges of the value."""
+    return after_one().accepts(event, time, value)
+
+
+ASKED_TIMES = (-1001, 1001, *NO_INTEGERS)
 
 # Each function with the name, a right value and the wrong ones of each argument that it refuses. Every value is valid
 # as what is judged, so that it has no wrong ones.
@@ -106,12 +149,31 @@ REFUSING = (
     (accepts_alike, (FIRST_ARGUMENT, SECOND_ARGUMENT, ("value", (((0, 2), (1, 3)), ()), ()))),
     (shortest, (FREE_ROW_ARGUMENT,)),
     (left_out, (FREE_ROW_ARGUMENT,)),
+    (time_at, (FREE_ROW_ARGUMENT, PLACE_ARGUMENT)),
+    (separation, (FIRST_ARGUMENT, SECOND_ARGUMENT)),
+    (accepts_separation, (FIRST_ARGUMENT, SECOND_ARGUMENT, ("value", PLACE_ARGUMENT[1], ()))),
+    (leads, (NET_ARGUMENT, WAY_FIRST_ARGUMENT, WAY_SECOND_ARGUMENT, ("chosen", (0, 2), WRONG_SETS))),
+    (carries, (
+        NET_ARGUMENT, WAY_FIRST_ARGUMENT, WAY_SECOND_ARGUMENT, EVENT_ARGUMENT, ("other", 2, WRONG_EVENTS),
+    )),
+    (sources, (NET_ARGUMENT, WAY_FIRST_ARGUMENT, WAY_SECOND_ARGUMENT)),
+    (way, (NET_ARGUMENT, WAY_FIRST_ARGUMENT, WAY_SECOND_ARGUMENT)),
+    (way_evidence, (NET_ARGUMENT, WAY_FIRST_ARGUMENT, WAY_SECOND_ARGUMENT)),
+    (accepts_way, (
+        NET_ARGUMENT, WAY_FIRST_ARGUMENT, WAY_SECOND_ARGUMENT, ("row", ((0, 7),), WRONG_JOINT_NEWS),
+        ("value", way_evidence(NET, (0, 5, 5), (7, 12, 12)), ()),
+    )),
+    (begun, (NET_ARGUMENT,)),
+    (tell, (("event", 0, WRONG_EVENTS), ("time", 4, (-501, 501, *NO_INTEGERS)))),
+    (evidence, (EVENT_ARGUMENT, ("time", 4, ASKED_TIMES))),
+    (accepts, (EVENT_ARGUMENT, ("time", 12, ASKED_TIMES), ("value", ("fits", (4, 12, 12)), ()))),
+    (scan, (TEXT_ARGUMENT,)),
 )
 
 # The functions that raise NotPossible("net"), once all arguments are found right.
 NEEDING_A_KEPT_NET = (
     tight, bound_evidence, fits, evidence_for, window, fitting_beginning, limits, settled, limit_evidence,
-    accepts_limits,
+    accepts_limits, begun,
 )
 # The judges and the questions that have an answer for every net.
 NOT_NEEDING_IT = (can_keep, told_round, some_heights, shows_kept, shows_round, accepts_bound, accepts_evidence)
@@ -252,6 +314,12 @@ class EventsOfTheNetTest(unittest.TestCase):
             ("times", stepped, (net, (0, 0, 0), (("raise", 2, 0),))),
             ("index", is_idle_by, ((), 0, 0)), ("index", is_idle_by, (STEPS[:2], 2, 2)),
             ("by", is_idle_by, (STEPS[:2], 1, 2)),
+            ("first", leads, (net, (0, 0, 0), (0, 0, 0), ())), ("second", leads, (net, times, (0,), (2,))),
+            ("chosen", leads, (net, times, times, (2,))), ("chosen", leads, (net, times, times, (0, 1, 2))),
+            ("event", carries, (net, times, times, 2, 2)), ("other", carries, (net, times, times, 1, 2)),
+            ("row", accepts_way, (net, times, times, ((2, 0),), None)),
+            ("event", Telling(net).tell, (2, 0)), ("event", Telling(net).evidence, (2, 0)),
+            ("event", Telling(net).accepts, (2, 0, None)),
         ):
             with self.assertRaises(BadValue, msg=(function, values)) as caught:
                 function(*values)
@@ -289,6 +357,9 @@ class NothingIsModifiedTest(unittest.TestCase):
             (accepts_limits, (NET, ((0, 7),), 1, [12, 17], list(limit_evidence(NET, ((0, 7),), 1)))),
             (accepts_alike, (((0, 7), (0, 7)), ((0, 7),), [[[0, 2], [1, 3]], []])),
             (reduced, (STEPS, [[0, 2]])),
+            (accepts_separation, (((0, 7),), ((0, 9),), [[0, 0], None, 8])), (is_place, ([[0, 3], [1, 3], 0],)),
+            (accepts_way, (NET, (0, 5, 5), (7, 12, 12), ((0, 7),), [[(0, 0, 7, ())], [((0,), [6, 12, 12])]])),
+            (accepts, (1, 12, ["fits", [4, 12, 12]])),
         ):
             before = copy.deepcopy(values)
             self.assertIs(function(*values), None if function is reduced else False, function)
