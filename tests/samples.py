@@ -2,6 +2,7 @@
 
 from itertools import product
 
+from allbide.errors import BadValue, NotPossible, TooLarge
 from allbide.nets import edges
 
 NET = (3, ((0, 1, 5, 10), (1, 2, 0, None)))
@@ -183,6 +184,19 @@ def negative(net):
     )
 
 
+def refused(function, *values):
+    """The error that the call raises, as a pair of its class and its word, or None."""
+    try:
+        function(*values)
+    except BadValue as error:
+        return BadValue, error.name
+    except NotPossible as error:
+        return NotPossible, error.why
+    except TooLarge as error:
+        return TooLarge, error.what
+    return None
+
+
 class AnyEqual:
     """A value that claims to be equal to everything."""
 
@@ -335,4 +349,28 @@ WRONG_SETS = tuple(value for value in WRONG_CHOICES if value != ())
 WRONG_TEXTS = (
     None, True, 0, 3.5, b"3:", b"", ["3:"], ("3:",), (), [], {}, AnyEqual(), "3:\n", "\n", "a = 5\n", "xy\n", " " * 601,
     "a" * 601, "3:" + " " * 600, "a = 5" + "\n" * 600,
+)
+
+WRONG_KINDS = (None, "", "Net", "ROW", "times", "net ", "n", b"net", ("net",), ["net"], {}, AnyEqual(), *NO_INTEGERS)
+
+# For a net of three events.
+WRONG_COMMANDS = (
+    None, True, 0, "shorten", "tell", (), {}, AnyEqual(),
+    # The word, and the number and kind of items.
+    ("Shorten",), ("",), (b"shorten",), ("undo",), (None,), (AnyEqual(),), ["shorten"], ("shorten", ()),
+    ("shorten", None), ("shorten", (0, 7)), (("shorten",),), ("tell",), ("join",), ("tell", (0, 7), (1, 7)),
+    ("tell", 0, 7), ("join", (), ()), ["tell", (0, 7)], ["join", ()], ("Tell", (0, 7)), ("", ()), (None, (0, 7)),
+    (AnyEqual(), (0, 7)), ((0, 7), "tell"), ("raise", 0, 7), ("lower", (0, 7)), (b"tell", (0, 7)), (0, 7),
+    # The news of the one as those of the other.
+    ("tell", ((0, 7),)), ("join", (0, 7)),
+    *[("tell", news) for news in WRONG_NEWS], *[("join", row) for row in WRONG_JOINT_NEWS],
+)
+
+WRONG_JOURNALS = (
+    None, True, 0, "", "shorten", [], [("shorten",)], {}, AnyEqual(), ("shorten",), ("tell", (0, 7)),
+    (("shorten",),) * 21, (("tell", (0, 7)),) * 21, (("join", ()),) * 22,
+    *[(command,) for command in WRONG_COMMANDS],
+    *[(command, ("shorten",), ("shorten",)) for command in WRONG_COMMANDS],
+    *[(("tell", (0, 7)), command, ("shorten",)) for command in WRONG_COMMANDS],
+    *[(("tell", (0, 7)), ("shorten",), command) for command in WRONG_COMMANDS],
 )

@@ -6,7 +6,8 @@ import os
 import unittest
 
 from allbide import (
-    alike, bounds, changes, effects, errors, fitting, idle, nets, places, repair, scanning, steps, telling, ways,
+    alike, bounds, changes, effects, errors, fitting, idle, journals, live, nets, places, reading, repair, scanning,
+    steps, telling, ways, writing,
 )
 from allbide.alike import accepts_alike, alike_evidence, are_alike, left_out, shortest
 from allbide.bounds import (
@@ -14,14 +15,19 @@ from allbide.bounds import (
 )
 from allbide.changes import part, renamed, turned, with_rule
 from allbide.effects import accepts_limits, behind, limit_evidence, limits, settled, states
+from allbide.errors import TextError
 from allbide.fitting import accepts_evidence, evidence_for, fits, fitting_beginning, window
 from allbide.idle import idle_steps, is_idle_by, reduced, reduction, remaining
+from allbide.journals import are_right, replayed
+from allbide.live import Live
 from allbide.nets import edges, excess, first_broken, is_walk, keeps, walk_length
 from allbide.places import accepts_separation, is_place, separation, time_at
+from allbide.reading import next_tokens, read_net, read_row, read_times
 from allbide.scanning import scan
 from allbide.steps import commute, layers, stepped, steps_of
 from allbide.telling import Telling
 from allbide.ways import accepts_way, carries, leads, sources, way, way_evidence
+from allbide.writing import net_text, row_text, times_text
 
 FUNCTIONS = (
     (nets, "is_net", ["value"]),
@@ -85,6 +91,15 @@ FUNCTIONS = (
     (ways, "way_evidence", ["net", "first", "second"]),
     (ways, "accepts_way", ["net", "first", "second", "row", "value"]),
     (scanning, "scan", ["text"]),
+    (reading, "next_tokens", ["text", "kind"]),
+    (reading, "read_net", ["text"]),
+    (reading, "read_row", ["net", "text"]),
+    (reading, "read_times", ["net", "text"]),
+    (writing, "net_text", ["net"]),
+    (writing, "row_text", ["row"]),
+    (writing, "times_text", ["net", "times"]),
+    (journals, "replayed", ["net", "times", "journal"]),
+    (journals, "are_right", ["net", "times", "records"]),
 )
 
 # The classes of the interface that are no errors: their own parameters, and those of each method.
@@ -92,6 +107,10 @@ OBJECTS = (
     (telling, "Telling", ["net"], (
         ("tell", ["event", "time"]), ("take_back", []), ("windows", []), ("told", []), ("heights", []),
         ("evidence", ["event", "time"]), ("accepts", ["event", "time", "value"]),
+    )),
+    (live, "Live", ["net", "times"], (
+        ("act", ["command"]), ("undo", []), ("net", []), ("times", []), ("row", []), ("journal", []),
+        ("moves", ["news"]), ("room", ["event"]), ("records", []), ("twin", []),
     )),
 )
 
@@ -167,11 +186,41 @@ class KindsTest(unittest.TestCase):
         for value in (begun.accepts(0, 7, None), is_place(None)):
             self.assertIs(value, False)
 
+    def test_what_a_live_net_returns(self):
+        begun = Live((3, ((0, 1, 5, 10), (1, 2, 0, None))), (0, 5, 30))
+        for many, command in enumerate((("tell", (0, 7)), ("join", ((0, 7), (1, 12))), ("shorten",), ("join", ())), 1):
+            number = begun.act(command)
+            self.assertEqual((type(number), number), (int, many))
+        for value in (
+            begun.net(), begun.times(), begun.row(), begun.journal(), begun.moves((2, 5)), begun.room(2),
+            begun.records(), begun.undo(), begun.undo(), begun.undo(), begun.records(), begun.twin().records(),
+        ):
+            self.assertIs(type(value), tuple)
+            self.assertFalse(contains_list(value), value)
+        self.assertIs(type(begun.twin()), Live)
+        self.assertIs(type(replayed(begun.net(), (0, 5, 30), begun.journal())), Live)
+        self.assertIs(are_right(begun.net(), (0, 5, 30), begun.records()), True)
+        self.assertIs(are_right(begun.net(), (0, 5, 30), None), False)
+
+    def test_what_texts_are_read_as_and_written_as(self):
+        net = (3, ((0, 1, 5, 10), (1, 2, 0, None)))
+        for value in (
+            read_net("3:"), read_net("3: b - a in 5.."), read_row(net, ""), read_row(net, "a = 7"),
+            read_times(net, "a = 7, b = 7, c = 7"),
+        ):
+            self.assertIs(type(value), tuple)
+            self.assertFalse(contains_list(value), value)
+        for value in (net_text(net), row_text(()), row_text(((0, 7),)), times_text(net, (0, 0, 0))):
+            self.assertIs(type(value), str)
+
     def test_lists_are_returned_where_the_document_says_so(self):
         net = (3, ((0, 1, 5, 10), (1, 2, 0, None)))
         for value in (sources(net, (0, 5, 5), (7, 12, 13)), sources(net, (0, 5, 5), (0, 5, 5)), scan(""), scan("a")):
             self.assertIs(type(value), list)
             self.assertTrue(all(type(item) is tuple for item in value))
+        for value in (next_tokens("", "row"), next_tokens("3:", "net")):
+            self.assertIs(type(value), list)
+            self.assertTrue(all(type(item) is str for item in value))
 
 
 class ExamplesTest(unittest.TestCase):
@@ -359,6 +408,48 @@ class ExamplesTest(unittest.TestCase):
         self.assertEqual(
             (begun.take_back(), begun.windows()[0], begun.evidence(0, 14)[0]),
             ((2, 72), (10, 15), "fits"),
+        )
+
+    def test_the_examples_of_reading_and_writing(self):
+        net = read_net("3: b - a in 5..10; c - b in 0..; c - a in ..60")
+        self.assertEqual(
+            (net, net_text((2, ((1, 0, -3, None),)))),
+            ((3, ((0, 1, 5, 10), (1, 2, 0, None), (0, 2, None, 60))), "2: a - b in -3.."),
+        )
+        self.assertEqual(
+            (read_row(net, "c = 7, a = -2, c = 9"), row_text(((0, -2), (2, 7)))),
+            (((2, 7), (0, -2), (2, 9)), "a = -2, c = 7"),
+        )
+        self.assertEqual(
+            (read_times(net, "c=30,a=0,b=5"), times_text(net, (0, 5, 30))),
+            ((0, 5, 30), "a = 0, b = 5, c = 30"),
+        )
+        self.assertEqual(
+            (next_tokens("3: b - a in", "net"), next_tokens("3: b - a in 5..", "net"), next_tokens("a", "row")),
+            (["a number", '"-"', '".."'], ["a number", '";"', '"-"', "the end"], ['"="']),
+        )
+        with self.assertRaises(TextError) as caught:
+            read_net("2: b - a in 5..101")
+        self.assertEqual((caught.exception.column, caught.exception.words), (16, "a side is from -100 to 100"))
+
+    def test_the_examples_of_live_and_journals(self):
+        begun = Live((3, ((0, 1, 5, 10), (1, 2, 0, None), (0, 2, None, 60))), (0, 5, 30))
+        self.assertEqual(
+            (begun.act(("tell", (0, 7))), begun.times(), begun.act(("tell", (0, 9))), begun.times(),
+             begun.act(("tell", (0, 7))), begun.times()),
+            (1, (7, 12, 30), 2, (9, 14, 30), 3, (7, 14, 30)),
+        )
+        self.assertEqual(
+            (begun.room(1), begun.room(2), begun.act(("shorten",)), begun.row()),
+            ((12, 17), (14, 67), 4, ((0, 9), (0, 7))),
+        )
+        self.assertEqual(
+            (begun.moves((2, 13)), are_right(begun.net(), (0, 5, 30), begun.records())),
+            (((1, 14, 13, ((1, "low"),)), (2, 30, 13, ())), True),
+        )
+        self.assertEqual(
+            (begun.undo(), begun.row(), replayed(begun.net(), (0, 5, 30), begun.journal()).times()),
+            (("shorten",), ((0, 7), (0, 9), (0, 7)), (7, 14, 30)),
         )
 
     def test_the_examples_of_the_readme(self):

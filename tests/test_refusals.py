@@ -1,4 +1,4 @@
-"""Points 2, 8, 17, 28, 40, 50, 60, 72, 84, 94, 104, 115: wrong arguments in the order of the parameters; nothing is modified."""
+"""Points 2, 8 and the refusals of each chapter: wrong arguments in the order of the parameters; nothing is modified."""
 
 import copy
 import unittest
@@ -12,17 +12,22 @@ from allbide.effects import accepts_limits, behind, limit_evidence, limits, sett
 from allbide.errors import BadValue, NotPossible
 from allbide.fitting import accepts_evidence, evidence_for, fits, fitting_beginning, window
 from allbide.idle import idle_steps, is_idle_by, reduced, reduction, remaining
+from allbide.journals import are_right, replayed
+from allbide.live import Live
 from allbide.nets import edges, excess, first_broken, is_net, is_times, is_walk, keeps, walk_length
 from allbide.places import accepts_separation, is_place, separation, time_at
+from allbide.reading import next_tokens, read_net, read_row, read_times
 from allbide.repair import accepts_repair, fit, repair, repaired, told
 from allbide.scanning import scan
 from allbide.steps import commute, layers, stepped, steps_of
 from allbide.telling import Telling
 from allbide.ways import accepts_way, carries, leads, sources, way, way_evidence
+from allbide.writing import net_text, row_text, times_text
+from tests.lives import state_of
 from tests.samples import (
-    LOST_NETS, NET, NO_INTEGERS, WRONG_CHOICES, WRONG_EVENTS, WRONG_FREE_ROWS, WRONG_JOINT_NEWS, WRONG_NETS,
-    WRONG_NEWS, WRONG_ORDERS, WRONG_PLACES, WRONG_ROWS, WRONG_RULES, WRONG_SETS, WRONG_STEP_TUPLES, WRONG_STEPS,
-    WRONG_TEXTS, WRONG_TIMES, WRONG_WALKS,
+    LOST_NETS, NET, NO_INTEGERS, WRONG_CHOICES, WRONG_COMMANDS, WRONG_EVENTS, WRONG_FREE_ROWS, WRONG_JOINT_NEWS,
+    WRONG_JOURNALS, WRONG_KINDS, WRONG_NETS, WRONG_NEWS, WRONG_ORDERS, WRONG_PLACES, WRONG_ROWS, WRONG_RULES,
+    WRONG_SETS, WRONG_STEP_TUPLES, WRONG_STEPS, WRONG_TEXTS, WRONG_TIMES, WRONG_WALKS,
 )
 
 NET_ARGUMENT = ("net", NET, WRONG_NETS)
@@ -89,6 +94,43 @@ def accepts(event, time, value):
 
 
 ASKED_TIMES = (-1001, 1001, *NO_INTEGERS)
+
+
+def lived(net, times):
+    """All that a new live net tells."""
+    return state_of(Live(net, times))
+
+
+def after_news():
+    """A live net behind a piece of news."""
+    live = Live(NET, (0, 7, 9))
+    live.act(("tell", (1, 12)))
+    return live
+
+
+def act(command):
+    """All that the live net tells behind the command."""
+    live = after_news()
+    live.act(command)
+    return state_of(live)
+
+
+def moves(news):
+    """The moves of the live net for the piece of news."""
+    return after_news().moves(news)
+
+
+def room(event):
+    """The room of the event in the live net."""
+    return after_news().room(event)
+
+
+def replayed_state(net, times, journal):
+    """All that the replayed live net tells."""
+    return state_of(replayed(net, times, journal))
+
+
+JOURNAL = (("tell", (1, 12)), ("join", ((0, 7), (2, 30))), ("shorten",))
 
 # Each function with the name, a right value and the wrong ones of each argument that it refuses. Every value is valid
 # as what is judged, so that it has no wrong ones.
@@ -168,6 +210,21 @@ REFUSING = (
     (evidence, (EVENT_ARGUMENT, ("time", 4, ASKED_TIMES))),
     (accepts, (EVENT_ARGUMENT, ("time", 12, ASKED_TIMES), ("value", ("fits", (4, 12, 12)), ()))),
     (scan, (TEXT_ARGUMENT,)),
+    (next_tokens, (("text", "3: b - a in", WRONG_TEXTS), ("kind", "net", WRONG_KINDS))),
+    (read_net, (("text", "3: b - a in 5..10", WRONG_TEXTS),)),
+    (read_row, (NET_ARGUMENT, ("text", "a = 5, c = -7", WRONG_TEXTS))),
+    (read_times, (NET_ARGUMENT, ("text", "a = 5, c = -7, b = 0", WRONG_TEXTS))),
+    (net_text, (NET_ARGUMENT,)),
+    (row_text, (FREE_ROW_ARGUMENT,)),
+    (times_text, (NET_ARGUMENT, TIMES_ARGUMENT)),
+    (lived, (NET_ARGUMENT, KEPT_TIMES_ARGUMENT)),
+    (act, (("command", ("join", ((0, 7), (2, 30))), WRONG_COMMANDS),)),
+    (moves, (("news", (0, 9), WRONG_NEWS),)),
+    (room, (EVENT_ARGUMENT,)),
+    (replayed_state, (NET_ARGUMENT, KEPT_TIMES_ARGUMENT, ("journal", JOURNAL, WRONG_JOURNALS))),
+    (are_right, (
+        NET_ARGUMENT, KEPT_TIMES_ARGUMENT, ("records", replayed(NET, (0, 7, 9), JOURNAL).records(), ()),
+    )),
 )
 
 # The functions that raise NotPossible("net"), once all arguments are found right.
@@ -176,7 +233,10 @@ NEEDING_A_KEPT_NET = (
     accepts_limits, begun,
 )
 # The judges and the questions that have an answer for every net.
-NOT_NEEDING_IT = (can_keep, told_round, some_heights, shows_kept, shows_round, accepts_bound, accepts_evidence)
+NOT_NEEDING_IT = (
+    can_keep, told_round, some_heights, shows_kept, shows_round, accepts_bound, accepts_evidence, read_row, read_times,
+    net_text, times_text,
+)
 LOST_NETS_OF_THREE = tuple(net for net in LOST_NETS if net[0] == 3)
 
 
@@ -239,11 +299,13 @@ class NotPossibleTest(unittest.TestCase):
                         self.assertEqual(caught.exception.name, name)
 
     def test_times_of_a_net_that_cannot_be_kept_never_keep_it(self):
-        for function in (states, behind):
+        for function, more in (
+            (states, ((),)), (behind, ((),)), (lived, ()), (replayed_state, ((),)), (are_right, ((),)),
+        ):
             for net in LOST_NETS_OF_THREE:
                 for times in ((0, 7, 9), (0, 0, 0), None):
                     with self.assertRaises(BadValue) as caught:
-                        function(net, times, ())
+                        function(net, times, *more)
                     self.assertEqual(caught.exception.name, "times")
 
     def test_news_that_do_not_fit_are_refused_last(self):
@@ -320,6 +382,10 @@ class EventsOfTheNetTest(unittest.TestCase):
             ("row", accepts_way, (net, times, times, ((2, 0),), None)),
             ("event", Telling(net).tell, (2, 0)), ("event", Telling(net).evidence, (2, 0)),
             ("event", Telling(net).accepts, (2, 0, None)),
+            ("times", times_text, (net, (0, 0, 0))), ("times", lived, (net, (0, 0, 0))),
+            ("command", Live(net, times).act, (("tell", (2, 0)),)), ("news", Live(net, times).moves, ((2, 0),)),
+            ("event", Live(net, times).room, (2,)), ("journal", replayed_state, (net, times, (("tell", (2, 0)),))),
+            ("times", are_right, (net, (0, 0, 0), None)),
         ):
             with self.assertRaises(BadValue, msg=(function, values)) as caught:
                 function(*values)
@@ -360,6 +426,7 @@ class NothingIsModifiedTest(unittest.TestCase):
             (accepts_separation, (((0, 7),), ((0, 9),), [[0, 0], None, 8])), (is_place, ([[0, 3], [1, 3], 0],)),
             (accepts_way, (NET, (0, 5, 5), (7, 12, 12), ((0, 7),), [[(0, 0, 7, ())], [((0,), [6, 12, 12])]])),
             (accepts, (1, 12, ["fits", [4, 12, 12]])),
+            (are_right, (NET, (0, 7, 9), [[("tell", (0, 0)), [(0, 7, 9), []]]])),
         ):
             before = copy.deepcopy(values)
             self.assertIs(function(*values), None if function is reduced else False, function)

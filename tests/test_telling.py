@@ -10,8 +10,8 @@ from allbide.nets import keeps
 from allbide.telling import Telling
 from tests.oracles import distances, is_right, right_heights
 from tests.samples import (
-    LOST_NETS, NET, NO_INTEGERS, SHORT_NET, WRONG_EVENTS, WRONG_WALKS, AnyEqual, Numbers, kept_pairs, sample_nets,
-    walks_up_to,
+    LOST_NETS, NET, NO_INTEGERS, SHORT_NET, WRONG_EVENTS, WRONG_WALKS, AnyEqual, Numbers, kept_pairs, refused,
+    sample_nets, walks_up_to,
 )
 
 # No tight bound from 0 to 2, and none between 3 and the others.
@@ -59,17 +59,6 @@ def drawn_tellings(seed, nets):
             row.append((event, time))
         found.append((net, tuple(row)))
     return found
-
-
-def refused(function, *values):
-    """The error that the call raises, as a pair of its class and its word, or None."""
-    try:
-        function(*values)
-    except BadValue as error:
-        return BadValue, error.name
-    except NotPossible as error:
-        return NotPossible, error.why
-    return None
 
 
 def state_of(telling):

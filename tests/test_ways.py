@@ -492,7 +492,9 @@ class RefusalsTest(unittest.TestCase):
                 (leads, ((),)), (carries, (0, 1)), (sources, ()), (way, ()), (way_evidence, ()),
                 (accepts_way, ((), None)),
             ):
-                for values, name in (((wrong, (0, 0)), "first"), (((0, 0), wrong), "second"), ((wrong, wrong), "first")):
+                for values, name in (
+                    ((wrong, (0, 0)), "first"), (((0, 0), wrong), "second"), ((wrong, wrong), "first"),
+                ):
                     with self.assertRaises(BadValue) as caught:
                         function(net, *values, *more)
                     self.assertEqual(caught.exception.name, name)
