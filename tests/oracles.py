@@ -114,7 +114,7 @@ def remaining_by_words(steps):
         del left[idle[0]]
 
 
-def told_places(first, second):
+def places_by_words(first, second):
     """The told places for two rows of news (point 80), those that are not possible left out."""
     events = sorted({event for event, _ in first + second})
     for a in events:
@@ -132,7 +132,7 @@ def told_places(first, second):
 def are_told_apart(first, second):
     """Tell whether two rows of news lead to different times at some told place: whether they are not alike."""
     one, other = in_steps(first), in_steps(second)
-    return any(stepped_at(one, place) != stepped_at(other, place) for place in told_places(first, second))
+    return any(stepped_at(one, place) != stepped_at(other, place) for place in places_by_words(first, second))
 
 
 def told_jointly(net, heights, row):

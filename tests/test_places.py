@@ -7,9 +7,9 @@ from allbide.alike import accepts_alike, alike_evidence, are_alike
 from allbide.effects import behind
 from allbide.errors import BadValue
 from allbide.idle import reduction
-from allbide.places import accepts_separation, is_place, separation, time_at
+from allbide.places import accepts_separation, is_place, separation, time_at, told_places
 from allbide.steps import steps_of
-from tests.oracles import in_steps, some_places, stepped_at, told_places
+from tests.oracles import in_steps, places_by_words, some_places, stepped_at
 from tests.samples import NO_INTEGERS, WRONG_PLACES, Numbers, later, like_rows, short_rows, some_rows
 
 SMALL_NEWS = ((0, 0), (0, 1), (1, 0), (1, 1))
@@ -153,10 +153,28 @@ class SeparationTest(unittest.TestCase):
         self.assertEqual(separation(((0, 3), (1, 9)), ((1, 9), (0, 3))), ((0, -7), (1, 0), -10000))
         self.assertEqual(separation(((0, 7), (1, 7)), ((1, 7), (0, 7))), ((0, -1), (1, 0), -10000))
 
+    def test_the_told_places_in_their_sequence(self):
+        self.assertEqual(told_places(()), [])
+        self.assertEqual(told_places(((3, 7),)), [
+            ((3, 0), None, -10000), (None, (3, 0), 10000), ((3, 0), (3, 0), -10000), ((3, 0), (3, 0), 10000),
+        ])
+        # Of one event, bounds below 0 are passed over; those of 9 - 8 and of 8 - 7 - 1 and the like stand once.
+        self.assertEqual(
+            [place[0][1] for place in told_places(((0, 7), (0, 9), (0, 8)))[2::2]], [0, 1, 2],
+        )
+        self.assertEqual([place for place in told_places(((4, 3), (1, 9))) if place[:2] == ((4, -7), (1, 0))], [
+            ((4, -7), (1, 0), -10000), ((4, -7), (1, 0), 10000),
+        ])
+        for first, second in row_pairs()[::4]:
+            places = told_places(first + second)
+            self.assertEqual(places, list(places_by_words(first, second)))
+            self.assertEqual(len(places), len(set(places)))
+            self.assertTrue(all(is_place(place) for place in places))
+
     def test_the_first_told_place_that_tells_them_apart(self):
         kinds = {}
         for first, second in row_pairs():
-            places = [p for p in told_places(first, second) if time_by_steps(first, p) != time_by_steps(second, p)]
+            places = [p for p in places_by_words(first, second) if time_by_steps(first, p) != time_by_steps(second, p)]
             found = separation(first, second)
             self.assertEqual(found, places[0] if places else None, (first, second))
             if found is not None:
@@ -179,7 +197,7 @@ class SeparationTest(unittest.TestCase):
         self.assertIs(is_place(place), True)
         self.assertIs(accepts_separation(first, second, place), True)
         self.assertEqual(place, next(
-            p for p in told_places(first, second) if time_by_steps(first, p) != time_by_steps(second, p)
+            p for p in places_by_words(first, second) if time_by_steps(first, p) != time_by_steps(second, p)
         ))
 
     def test_point_82_news_told_twice(self):

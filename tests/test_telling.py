@@ -398,6 +398,12 @@ class EvidenceTest(unittest.TestCase):
             self.assertIs(telling.accepts(0, 11, ("early", other, ((2, "high"),))), False, other)
             self.assertIs(telling.accepts(0, 500, ("late", other, ((0, "low"),))), False, other)
 
+    def test_a_word_changed_beside_a_walk_to_the_event(self):
+        telling = self.told()
+        self.assertIs(telling.accepts(0, 16, ("late", 1, ((0, "low"),))), True)
+        for word in ("early", "fits", "Late", "LATE", "lat", "late ", "", b"late", None, True, ("late",), AnyEqual()):
+            self.assertIs(telling.accepts(0, 16, (word, 1, ((0, "low"),))), False, word)
+
     def test_an_event_that_was_not_told_shows_nothing(self):
         telling = telling_of(SHORT_NET, ((1, 20),))
         self.assertIs(telling.accepts(0, -900, ("early", 1, ((0, "high"),))), True)
